@@ -15,16 +15,13 @@ def shows_alike(one, other, value):
 
 
 def are_rows(rows):
-    """Whether any value is a tuple of Marks, each the least of its turns and there once."""
-    if not isinstance(rows, tuple) or not all([isinstance(row, Marks) for row in rows]):
-        return False
-    if not all([row.turned() == row for row in rows]):
-        return False
-    return len(set([(row.period, row.places) for row in rows])) == len(rows)
+    """Whether any value is a tuple of Marks."""
+    return isinstance(rows, tuple) and all([isinstance(row, Marks) for row in rows])
 
 
 def are_rows_of(train, rows):
     """Whether some rows of marks, in any order, are just those of a train."""
+    # Those of a train are turned, and each is there once: so no other ones can be equal to them.
     told = sorted([(row.period, row.places) for row in rows])
     return told == [(row.period, row.places) for row in rows_of_cycles(cycles_of(train))]
 

@@ -93,7 +93,7 @@ class TestClasses(Case):
 
     def test_errors_in_their_order(self):
         fine, rough, loose = Train(Wheel(2)), Train(Gear(3, 2)), Train(Slips(2))
-        great = Train(Wheel(3), Divider(20), Divider(60))
+        great = Train(Wheel(*[7] * 11), Divider(39))
         just = Train(Wheel(3), Divider(20), Divider(50))
         for wrong in OTHERS + [Wheel(2)]:
             self.fails(BadTrain("train"), rows_of, wrong)

@@ -10,26 +10,27 @@ FILE = os.path.join(os.path.dirname(os.path.abspath(__file__)), "examples.txt")
 ERRORS = {name: made for name, made in vars(errors).items() if isinstance(made, type)}
 
 
-def steps():
+def steps(path):
     """The triples of heading, statement and what is told of it (None without anything)."""
-    heading, found = None, []
-    with open(FILE, encoding="ascii") as handle:
+    heading, found, told = None, [], False
+    with open(path, encoding="ascii") as handle:
         for line in handle.read().split("\n"):
             if line.startswith("# "):
                 heading = line[2:]
             elif line.startswith(">>> "):
                 found.append([heading, line[4:], None])
-            elif line:
+                told = True
+            elif told and line and not line.startswith("```"):
                 found[-1][2] = line
+            else:
+                told = False
     return found
 
 
 class TestExamples(unittest.TestCase):
-    def test_examples(self):
+    def check(self, path):
         names = {}
-        headings = []
-        for heading, line, told in steps():
-            headings.append(heading)
+        for heading, line, told in steps(path):
             with self.subTest(heading=heading, line=line):
                 if told is None:
                     exec(line, names)
@@ -40,7 +41,15 @@ class TestExamples(unittest.TestCase):
                     self.assertTrue(same(vars(caught.exception), vars(wanted)))
                 else:
                     self.assertTrue(same(eval(line, names), eval(told, {})), line)
-        self.assertEqual(len(set(headings)), 13)
+
+    def test_document(self):
+        self.assertEqual(len({heading for heading, _, _ in steps(FILE)}), 13)
+        self.check(FILE)
+
+    def test_readme(self):
+        readme = os.path.join(os.path.dirname(os.path.dirname(FILE)), "README.md")
+        self.assertEqual(len(steps(readme)), 8)
+        self.check(readme)
 
 
 if __name__ == "__main__":

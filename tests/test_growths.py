@@ -203,6 +203,7 @@ class TestGrowths(Case):
         self.fails(TooMany("values", 5000), one_in(71).after, one_in(71))
         self.assertEqual(len(one_in(70).after(one_in(71)).gains), 4970)
         self.assertEqual(len(one_in(71).after(71 * one_in(71)).gains), 71)
+        self.assertEqual(len(one_in(50).after(one_in(100)).gains), 5000)
         self.assertEqual(one_in(4999).after(Growth((5, 6))), Growth((1,)))
         self.assertEqual(one_in(4999).after(Growth((0, 4999))), Growth((0, 1)))
         self.fails(BadGrowth("other"), one_in(5000).after, Growth((1, 0), [0, 1, 1] * 1000 + [1]))

@@ -135,6 +135,15 @@ class TestBarring(Case):
 
 
 class TestStretches(Case):
+    def test_what_comes(self):
+        for history in (Steps(-1, 2, 0, 3, 1), Through(PACE, (-2, -7), (1, -5), (4, 1))):
+            for a, b in itertools.combinations_with_replacement(range(-4, 8), 2):
+                amounts = [history(t) for t in range(a, b + 1)]
+                row = tuple(after - ahead for ahead, after in zip(amounts, amounts[1:]))
+                self.alike(history.row(a, b), row)
+                self.alike(history.grown(a, b), sum(row))
+                self.alike(tuple(history[t] for t in range(a, b)), row)
+
     def test_moments(self):
         for history in (Steps(0, 1, 2), Through(PACE, (0, 0), (2, 5))):
             for wrong in OTHERS + [FAR + 1, -FAR - 1]:

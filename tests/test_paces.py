@@ -122,6 +122,7 @@ class TestPaces(Case):
             self.assertFalse(wrong in pace)
         self.assertEqual((Pace.MOST, Pace.LONGEST), (6, 60))
         self.assertEqual(Pace.steady(most=10 ** 6), Pace((1, 10 ** 6)))
+        self.assertEqual(Pace.steady(1), Pace((1, 1)))
         self.assertNotEqual(pace, Pace((1, 3), (4, 5)))
         for value in OTHERS:
             self.assertFalse(pace == value)

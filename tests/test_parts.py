@@ -78,6 +78,7 @@ class TestWheels(Case):
         self.fails(BadPart("turn"), Wheel.even, 2, 201)
         self.assertEqual(Wheel(*[10] * 40).turn, 400)
         self.assertEqual(Wheel.even(1, 400).turn, 400)
+        self.assertEqual(Wheel.even(40, 1).teeth, (1,) * 40)
 
     def test_beginnings(self):
         wheel = Wheel(2, 3)

@@ -55,6 +55,13 @@ class TestPeaks(Case):
         self.alike(peak_below(least=ramp, worth=Ratio(0), high=5), (Ratio(5), 5))
         self.alike(peak_above(most=ramp, worth=Ratio(0), low=3, high=None), (Ratio(-3), 3))
 
+    def test_from_nothing_on(self):
+        none = Growth.constant(0)
+        self.alike(peak_above(none, Ratio(1)), (Ratio(0), 0))
+        self.alike(peak_above(none, Ratio(1), high=0), (Ratio(0), 0))
+        self.alike(peak_below(none, Ratio(1), 0), (Ratio(0), 0))
+        self.alike(peak_below(Growth.ramp(1), Ratio(1)), (Ratio(0), 0))
+
     def test_wrong_values(self):
         growth = Growth.ramp(1)
         for wrong in OTHERS + [1]:

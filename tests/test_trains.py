@@ -109,7 +109,7 @@ class TestTrains(Case):
         self.assertEqual(train.most(10 ** 20) - train.least(10 ** 20) in range(3), True)
 
     def test_texts(self):
-        texts = ["-", "wheel 1", "gear 1 1", "slips 60 59", "wheel " + " ".join(["10"] * 40),
+        texts = ["-", "wheel 1", "slips 2 1", "gear 1 1", "slips 60 59", "wheel " + " ".join(["10"] * 40),
                  "wheel 9 11 10 10 , gear 1 2 , slips 4 1", " , ".join(["gear 59 60"] * 6)]
         for text in texts:
             self.assertEqual(str(Train.read(text)), text)
