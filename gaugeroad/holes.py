@@ -38,11 +38,7 @@ class Unsure(Verdict):
 
 def sureness(train, display, pace, hole):
     """Whether each difference of totals behind a hole can be told from two readings."""
-    check_train(train, None)
-    check_display(display)
-    check_pace(pace)
-    check_number(hole, 1, MOST_HOLE)
-    check_fine(train)
+    check_hole(train, display, pace, hole)
     if display.modulus is None:
         return Sure(())
     if train.most_of(pace.top_of(hole)) < display.modulus:
@@ -69,6 +65,15 @@ def longest_sure_hole(train, display, pace):
     if display.modulus is None:
         raise Endless()
     return pace.soonest_of(train.least_for(display.modulus)) - 1
+
+
+def check_hole(train, display, pace, hole):
+    """Refuses values of which sureness cannot be asked."""
+    check_train(train, None)
+    check_display(display)
+    check_pace(pace)
+    check_number(hole, 1, MOST_HOLE)
+    check_fine(train)
 
 
 def check_fine(train):

@@ -3,6 +3,7 @@
 from gaugeroad.errors import BadPace, TooMany
 from gaugeroad.growths import growth_of_values, least_above
 from gaugeroad.kinds import check_number, is_within
+from gaugeroad.rounds import ends_of
 from gaugeroad.words import Words
 
 FAR_TICKS = 10 ** 32
@@ -133,6 +134,16 @@ def check_pace(pace):
     """Refuses any value that is no pace."""
     if not isinstance(pace, Pace):
         raise BadPace(None)
+
+
+def can_come(pace, amounts):
+    """Whether amounts that come tick by tick, and nothing around them, keep a pace."""
+    sums = [0, *ends_of(amounts)]
+    last = len(amounts)
+    for ticks, most in pace.rules:
+        if any([sums[min(at + ticks, last)] - sums[at] > most for at in range(last)]):
+            return False
+    return True
 
 
 def check_other(other):

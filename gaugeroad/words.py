@@ -23,26 +23,30 @@ class Words:
         if not isinstance(text, str):
             raise BadText(0, 0)
         self.words = text.split(" ")
-        self.taken = 0
+        self.place = 0
 
     def is_done(self):
         """Whether all words are taken."""
-        return self.taken == len(self.words)
+        return self.place == len(self.words)
+
+    def count_of(self, sign):
+        """How often a word stands in the whole text, wherever that is."""
+        return self.words.count(sign)
 
     def ahead(self):
         """The next word, an empty string behind the last one."""
-        return "" if self.is_done() else self.words[self.taken]
+        return "" if self.is_done() else self.words[self.place]
 
     def refuse(self):
         """Tells that the next word cannot stand, or that it is missing."""
-        raise BadText(0, self.taken)
+        raise BadText(0, self.place)
 
     def take(self, *options):
         """Takes the next word, which is to be one of the options."""
         word = self.ahead()
         if self.is_done() or word not in options:
             self.refuse()
-        self.taken += 1
+        self.place += 1
         return word
 
     def take_integer(self):
@@ -50,7 +54,7 @@ class Words:
         word = self.ahead()
         if not is_number_word(word):
             self.refuse()
-        self.taken += 1
+        self.place += 1
         return int(word)
 
     def take_number(self, low, high):
@@ -66,6 +70,13 @@ class Words:
         if not is_number_word(word) or int(word) not in numbers:
             self.refuse()
         return self.take_integer()
+
+    def take_multiple(self, step, low, high):
+        """Takes a multiple of step from low to high."""
+        word = self.ahead()
+        if is_number_word(word) and int(word) % step != 0:
+            self.refuse()
+        return self.take_number(low, high)
 
     def take_end_or(self, sign, may_go_on):
         """Whether all words are taken; otherwise takes a sign, if the text may go on."""

@@ -70,6 +70,15 @@ def is_call_of(node, *names):
     return isinstance(node, ast.Call) and isinstance(node.func, ast.Name) and node.func.id in names
 
 
+def decorators(node):
+    """The words over a function: the setter of a property has just that one."""
+    return [one.attr if isinstance(one, ast.Attribute) else one.id for one in node.decorator_list]
+
+
+def is_generator(node):
+    return any(isinstance(one, (ast.Yield, ast.YieldFrom)) for one in ast.walk(node))
+
+
 def is_plain(node):
     """Whether a module-level expression is a plain value."""
     if isinstance(node, ast.Constant):
@@ -193,12 +202,14 @@ class TestNames(unittest.TestCase):
                 self.assertEqual(set(inner) & outer, set(), (name, node.name))
 
     def test_attributes_and_methods_are_apart(self):
-        methods, stored, values = {}, {}, {}
+        methods, stored, values, properties, setters = {}, {}, {}, {}, {}
         for name, tree in trees().items():
             for box in classes(tree):
                 for node in box.body:
                     if isinstance(node, ast.FunctionDef):
-                        methods.setdefault(node.name, []).append(box.name)
+                        kinds = {"property": properties, "setter": setters}
+                        found = kinds.get("".join(decorators(node)), methods)
+                        found.setdefault(node.name, []).append(box.name)
                     elif isinstance(node, ast.Assign):
                         values.setdefault(node.targets[0].id, []).append(box.name)
                 for node in ast.walk(box):
@@ -206,7 +217,10 @@ class TestNames(unittest.TestCase):
                         stored.setdefault(node.attr, []).append(box.name)
         # No name is both anywhere: that is more than the rule asks for, and easier to see.
         self.assertEqual(set(methods) & set(stored), set())
-        self.assertEqual(set(values) & (set(stored) | set(methods)), set())
+        self.assertEqual(set(values) & (set(stored) | set(methods) | set(properties)), set())
+        self.assertEqual(set(methods) & set(properties), set())
+        self.assertEqual({name for name in set(stored) & set(properties) if properties[name] != setters.get(name)},
+                         set())
         self.assertEqual(set(stored) & NO_ATTRIBUTES, set())
         self.assertEqual(set(methods) & (NO_ATTRIBUTES | METHODS), set())
 
@@ -222,7 +236,7 @@ class TestNames(unittest.TestCase):
                     self.assertNotIn(node.func.attr, NO_SET_CALLS, name)
                 else:
                     self.assertIsInstance(node.func, ast.Name, name)
-                    self.assertIn(node.func.id, own | boxes | BUILTINS | LIBRARY["math"] | {"cls"}, name)
+                    self.assertIn(node.func.id, own | boxes | BUILTINS | LIBRARY["math"] | {"cls", "work"}, name)
 
 
 class TestStatements(unittest.TestCase):
@@ -281,9 +295,9 @@ class TestStatements(unittest.TestCase):
 
     def test_statements_and_expressions(self):
         allowed = (ast.Assign, ast.AugAssign, ast.If, ast.While, ast.For, ast.Return, ast.Raise, ast.Expr,
-                   ast.Continue, ast.Break, ast.Pass, ast.FunctionDef, ast.ClassDef, ast.ImportFrom)
-        barred = (ast.GeneratorExp, ast.Lambda, ast.NamedExpr, ast.Await, ast.Yield, ast.YieldFrom, ast.Div,
-                  ast.MatMult, ast.SetComp)
+                   ast.Continue, ast.Break, ast.Pass, ast.FunctionDef, ast.ClassDef, ast.ImportFrom, ast.Try, ast.With)
+        barred = (ast.GeneratorExp, ast.Lambda, ast.NamedExpr, ast.Await, ast.YieldFrom, ast.Div, ast.MatMult,
+                  ast.SetComp)
         for name, tree in trees().items():
             for node in ast.walk(tree):
                 place = (name, getattr(node, "lineno", None))
@@ -356,12 +370,58 @@ class TestStatements(unittest.TestCase):
                     self.assertFalse(is_call_of(node.value, "range", "zip", "enumerate"), (name, node.lineno))
 
 
+    def test_generators(self):
+        made = [(name, node) for name, tree in trees().items() for node in functions(tree) if is_generator(node)]
+        words = [node.name for _, node in made]
+        self.assertEqual(words, [node.name for tree in trees().values() for node in functions(tree)
+                                 if node.name in words])
+        self.assertEqual(set(words) & METHODS, set())
+        for name, node in made:
+            self.assertEqual(decorators(node), [], name)
+            for inner in ast.walk(node):
+                self.assertNotIsInstance(inner, (ast.Try, ast.With), name)
+                self.assertFalse(isinstance(inner, ast.Return) and inner.value is not None, name)
+        takers = ("list", "tuple", "dict", "sorted", "sum", "any", "all", "enumerate", "zip")
+        for name, tree in trees().items():
+            kept = parents(tree)
+            for node in ast.walk(tree):
+                if not isinstance(node, ast.Call):
+                    continue
+                if (node.func.attr if isinstance(node.func, ast.Attribute) else node.func.id) in words:
+                    around = kept[node]
+                    self.assertTrue(isinstance(around, (ast.For, ast.comprehension)) or is_call_of(around, *takers))
+
+    def test_handlers_name_own_errors(self):
+        own = {node.name for node in classes(trees()["errors.py"])}
+        for name, tree in trees().items():
+            for node in ast.walk(tree):
+                if isinstance(node, ast.ExceptHandler):
+                    told = node.type.elts if isinstance(node.type, ast.Tuple) else [node.type]
+                    self.assertLessEqual({one.id for one in told}, own - {"RoadError"}, name)
+                if isinstance(node, ast.Try):
+                    self.assertEqual(node.finalbody, [], name)
+
+    def test_blocks(self):
+        for name, tree in trees().items():
+            boxes = {node.name for tree in trees().values() for node in classes(tree)
+                     if "__enter__" in [one.name for one in node.body if isinstance(one, ast.FunctionDef)]}
+            for node in ast.walk(tree):
+                if isinstance(node, ast.With):
+                    self.assertTrue(all(is_call_of(item.context_expr, *boxes) for item in node.items), name)
+                if isinstance(node, ast.FunctionDef) and node.name == "__exit__":
+                    for row in node.body:
+                        self.assertIsInstance(row, ast.Assign)
+                        self.assertIsInstance(row.targets[0], ast.Attribute)
+                        self.assertIsInstance(row.value, (ast.Attribute, ast.Name))
+
+
 class TestClasses(unittest.TestCase):
     def test_double_underscores_are_listed(self):
         for name, tree in trees().items():
             for box in classes(tree):
                 self.assertEqual(box.decorator_list, [])
-                told = [node.name for node in box.body if isinstance(node, ast.FunctionDef)]
+                told = [node.name for node in box.body
+                        if isinstance(node, ast.FunctionDef) and decorators(node) != ["setter"]]
                 self.assertEqual(len(told), len(set(told)), (name, box.name))
                 self.assertLessEqual({word for word in told if word.startswith("__")}, DUNDERS)
 
@@ -376,11 +436,15 @@ class TestClasses(unittest.TestCase):
         for name, tree in trees().items():
             kept = parents(tree)
             for node in functions(tree):
-                told = [one.id for one in node.decorator_list]
+                told = decorators(node)
                 self.assertLessEqual(len(told), 1)
-                self.assertLessEqual(set(told), {"property", "staticmethod", "classmethod"})
+                self.assertLessEqual(set(told), {"property", "staticmethod", "classmethod", "setter"})
                 if told:
                     self.assertIsInstance(kept[node], ast.ClassDef)
+                if told == ["setter"]:
+                    self.assertEqual(node.decorator_list[0].value.id, node.name)
+                    before = kept[node].body[kept[node].body.index(node) - 1]
+                    self.assertEqual((before.name, decorators(before)), (node.name, ["property"]))
 
     def test_forms_of_double_underscores(self):
         for name, tree in trees().items():
@@ -400,7 +464,7 @@ class TestClasses(unittest.TestCase):
         plain = DUNDERS - {"__init__", "__call__", "__enter__", "__exit__", "__setitem__"}
         for name, tree in trees().items():
             for node in functions(tree):
-                if node.name in plain or [one for one in node.decorator_list if one.id == "property"]:
+                if node.name in plain or "property" in decorators(node):
                     for inner in ast.walk(node):
                         if isinstance(inner, (ast.Attribute, ast.Subscript)):
                             self.assertIsInstance(inner.ctx, ast.Load, (name, node.lineno))
@@ -431,7 +495,7 @@ def named_functions():
                     named.setdefault(box.name, []).append(node)
         for node in functions(tree):
             named.setdefault(node.name, []).append(node)
-            if node.name in plain or [one for one in node.decorator_list if one.id == "property"]:
+            if node.name in plain or "property" in decorators(node):
                 begun.append(node)
     return named, begun
 
@@ -440,7 +504,7 @@ def changes_in(node):
     """The lines of a function that change what it did not create itself."""
     own = {"self"} if node.name == "__init__" else set()
     for one in ast.walk(node):
-        if isinstance(one, ast.Assign) and isinstance(one.value, (ast.List, ast.ListComp)):
+        if isinstance(one, ast.Assign) and isinstance(one.value, (ast.List, ast.ListComp, ast.Dict)):
             own.update(target.id for target in one.targets if isinstance(target, ast.Name))
         if isinstance(one, ast.Assign) and isinstance(one.value, ast.Tuple):
             for target, value in zip(getattr(one.targets[0], "elts", []), one.value.elts):
