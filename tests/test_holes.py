@@ -5,6 +5,7 @@ import unittest
 
 from gaugeroad.errors import BadNumber, BadPace, BadRegister, BadTrain, Endless, Unlike
 from gaugeroad.holes import Sure, Unsure, least_modulus, longest_sure_hole, sureness
+from gaugeroad.look_holes import shows_sure
 from gaugeroad.paces import Pace
 from gaugeroad.parts import Divider, Gear, Slips, Wheel
 from gaugeroad.registers import Dials, Plain, Restarting, Wrapping
@@ -45,6 +46,41 @@ class TestHoles(Case):
                     self.assertIs(bool(told), most < modulus)
                     self.assertIsInstance(told, Sure if told else Unsure)
                     self.assertTrue(is_right(train, Wrapping(modulus), pace, hole, told))
+                    self.assertIs(shows_sure(train, Wrapping(modulus), pace, hole, told), True)
+
+    def test_all_small_papers_are_looked_at(self):
+        for train, pace in itertools.product(TRAINS, PACES):
+            for hole, modulus in itertools.product((1, 2, 3), (2, 3)):
+                display = Wrapping(modulus)
+                let = set(all_rows(pace, hole, 4))
+                for row in itertools.product(range(5), repeat=hole):
+                    wanted = row in let and max(all_counts(train, sum(row))) == modulus
+                    self.assertIs(shows_sure(train, display, pace, hole, Unsure(row)), wanted, row)
+                for times in itertools.product(range(4), repeat=len(pace)):
+                    wanted = is_right(train, display, pace, hole, Sure(times))
+                    self.assertIs(shows_sure(train, display, pace, hole, Sure(times)), wanted)
+
+    def test_papers_of_other_kinds_are_not_right(self):
+        train, pace, display = Train(Wheel(5)), Pace((1, 3), (4, 6)), Wrapping(3)
+        self.assertIs(shows_sure(train=train, display=display, pace=pace, hole=3, value=Sure((0, 1))), True)
+        for wrong in OTHERS + [(0,), (0, 1, 0), [0, 1], (0, True), (0, -1), (-4, 5), (0, "1"), (0, None), 5]:
+            self.assertIs(shows_sure(train, display, pace, 3, Sure(wrong)), False)
+            self.assertIs(shows_sure(train, display, pace, 3, Unsure(wrong)), False)
+            self.assertIs(shows_sure(train, display, pace, 3, wrong), False)
+        self.assertIs(shows_sure(train, display, pace, 3, Sure((10 ** 41, 1))), False)
+        for wrong in [(3, 3, 0, 0), (3, 3), [3, 3, 0], (3, 3, False), (7, -1, 0), (10 ** 41, 0, 0), (0, 3, 3, 0)]:
+            self.assertIs(shows_sure(train, Wrapping(2), pace, 3, Unsure(wrong)), False)
+        self.assertIs(shows_sure(train, Wrapping(2), pace, 3, Unsure((0, 3, 3))), True)
+        for display in (Plain(), Restarting()):
+            self.assertIs(shows_sure(train, display, pace, 3, Sure(())), True)
+            for wrong in (Sure([]), Sure((0, 1)), Sure(None), Unsure(()), Unsure((3, 3, 0)), ()):
+                self.assertIs(shows_sure(train, display, pace, 3, wrong), False)
+        longest = Pace((1, 10 ** 6))
+        told = sureness(Train(), Wrapping(10 ** 9), longest, 1000)
+        self.assertIs(shows_sure(Train(), Wrapping(10 ** 9), longest, 1000, told), True)
+        self.assertIs(shows_sure(Train(), Wrapping(10 ** 9), longest, 1000, Sure((1000,))), False)
+        self.assertIs(shows_sure(Train(), Wrapping(10 ** 9 + 1), longest, 1000, Sure((1000,))), True)
+        self.assertIs(shows_sure(Train(), Wrapping(10 ** 9 + 1), longest, 1000, Sure((999,))), False)
 
     def test_longest_holes(self):
         for train, pace in itertools.product(TRAINS, PACES):
@@ -86,6 +122,9 @@ class TestHoles(Case):
             self.fails(BadTrain(None), sureness, wrong, wrong, wrong, wrong)
             self.fails(BadRegister("display"), sureness, rough, wrong, wrong, wrong)
             self.fails(BadPace(None), sureness, rough, Plain(), wrong, None)
+            self.fails(BadTrain(None), shows_sure, wrong, wrong, wrong, wrong, wrong)
+            self.fails(BadRegister("display"), shows_sure, rough, wrong, wrong, wrong, wrong)
+            self.fails(BadPace(None), shows_sure, rough, Plain(), wrong, None, wrong)
             self.fails(BadTrain(None), least_modulus, wrong, wrong, wrong)
             self.fails(BadPace(None), least_modulus, rough, wrong, None)
             self.fails(BadTrain(None), longest_sure_hole, wrong, wrong, wrong)
@@ -94,6 +133,8 @@ class TestHoles(Case):
         for wrong in OTHERS + [0, -1, 1001]:
             self.fails(BadNumber(wrong), sureness, rough, Plain(), pace, wrong)
             self.fails(BadNumber(wrong), least_modulus, rough, pace, wrong)
+            self.fails(BadNumber(wrong), shows_sure, rough, Plain(), pace, wrong, Sure(()))
+        self.fails(Unlike("train"), shows_sure, rough, Plain(), pace, 1, Sure(()))
         self.fails(Unlike("train"), sureness, rough, Plain(), pace, 1)
         self.fails(Unlike("train"), least_modulus, rough, pace, 1)
         self.fails(Unlike("train"), longest_sure_hole, rough, Plain(), pace)
