@@ -2,9 +2,10 @@
 
 from gaugeroad.errors import Nothing, TooMany
 from gaugeroad.gaps import above, below
-from gaugeroad.gauges import MOST_TICKS, above_gauge, below_gauge
+from gaugeroad.gauges import MOST_TICKS
 from gaugeroad.lags import walk_of_span, walk_to_hole
 from gaugeroad.peaks import peak_below
+from gaugeroad.roads import above_gauge, below_gauge
 from gaugeroad.rounds import ends_of
 from gaugeroad.shafts import best_beginnings, worst_beginnings
 

@@ -1,12 +1,12 @@
 """The gaps of roads: how far above and below the truth a window can be told."""
 
 from gaugeroad.errors import BadCase, BadNumber, BadRoad, Forgotten, Nothing, NotYet, TooMany
-from gaugeroad.gauges import MOST_TICKS, above_gauge, below_gauge
+from gaugeroad.gauges import MOST_TICKS
 from gaugeroad.growths import Growth
 from gaugeroad.kinds import check_number, is_pair_within
 from gaugeroad.peaks import peak_below
 from gaugeroad.ratios import Ratio
-from gaugeroad.roads import check_road
+from gaugeroad.roads import above_gauge, below_gauge, check_road
 
 FAR = 10 ** 30
 MOST_BEHIND = 1000

@@ -11,12 +11,12 @@ MOST_TICKS = 600
 class AboveGauge:
     """How far above the truth a road can tell."""
 
-    def __init__(self, road):
-        worth = road.whole.worth
-        most = road.whole.most_growth
-        self.pace = road.pace
-        self.habit = road.habit
-        self.hole = road.habit.hole
+    def __init__(self, whole, pace, habit):
+        worth = whole.worth
+        most = whole.most_growth
+        self.pace = pace
+        self.habit = habit
+        self.hole = habit.hole
         self.unit = worth
         self.growth = most
         self.rounds = len(most.gains)
@@ -73,12 +73,12 @@ class AboveGauge:
 class BelowGauge:
     """How far below the truth a road can tell."""
 
-    def __init__(self, road):
-        worth = road.whole.worth
-        least = road.whole.least_growth
+    def __init__(self, whole, pace, habit):
+        worth = whole.worth
+        least = whole.least_growth
         many = len(least.gains)
-        self.pace = road.pace
-        self.hole = road.habit.hole
+        self.pace = pace
+        self.hole = habit.hole
         self.scale = worth.down
         row = [worth.down * d - worth.up * least.value_at(d) for d in range(many)]
         self.highest = highest_growth(row, worth.down * many - worth.up * sum(least.gains))
@@ -97,15 +97,24 @@ class BelowGauge:
         return self.scale * self.pace.top_of(self.hole - 1 + lag) + self.highest.head[-1]
 
 
-def above_gauge(road):
-    """The gauge of a road, made once."""
-    if road._above is None:
-        road._above = AboveGauge(road)
-    return road._above
+class Gauges:
+    """Both gauges of a road, each made when it is first asked for: a road is asked for many lengths."""
 
+    def __init__(self, whole, pace, habit):
+        self.parts = (whole, pace, habit)
+        self._above = None
+        self._below = None
 
-def below_gauge(road):
-    """The gauge of a road, made once."""
-    if road._below is None:
-        road._below = BelowGauge(road)
-    return road._below
+    def of_above(self):
+        """The gauge of the gaps above."""
+        if self._above is None:
+            whole, pace, habit = self.parts
+            self._above = AboveGauge(whole, pace, habit)
+        return self._above
+
+    def of_below(self):
+        """The gauge of the gaps below."""
+        if self._below is None:
+            whole, pace, habit = self.parts
+            self._below = BelowGauge(whole, pace, habit)
+        return self._below

@@ -2,8 +2,8 @@
 
 from gaugeroad.errors import TooMany
 from gaugeroad.gaps import above, below, check_exact, check_side, plain_above, plain_below
-from gaugeroad.gauges import MOST_TICKS, above_gauge, below_gauge
-from gaugeroad.roads import check_road
+from gaugeroad.gauges import MOST_TICKS
+from gaugeroad.roads import above_gauge, below_gauge, check_road
 
 
 class AtMost:

@@ -1,6 +1,7 @@
 """Roads: all from the units that come to the columns of a chart."""
 
 from gaugeroad.errors import BadRoad
+from gaugeroad.gauges import Gauges
 from gaugeroad.habits import Habit
 from gaugeroad.kinds import is_within
 from gaugeroad.looks import Looks
@@ -43,13 +44,11 @@ class Road:
         self.habit = looks if isinstance(looks, Habit) else looks.known()
         self.patience = PATIENCE_OF_HABIT if isinstance(looks, Habit) else looks.patience
         self.scale = self.whole.worth.down
-        # What gaps are reckoned from is made when they are first asked for.
-        self._above = None
-        self._below = None
         if not isinstance(self.display, (Plain, Restarting)) and not train.is_fine:
             raise BadRoad("fine")
         if tiers is not None and tiers.pairs[0][1] <= self.patience:
             raise BadRoad("keep")
+        self._gauges = Gauges(self.whole, pace, self.habit)
 
     def changed(self, **parts):
         """The road with some parts in the place of its own."""
@@ -67,6 +66,16 @@ class Road:
 
     def __eq__(self, other):
         return isinstance(other, Road) and self.told() == other.told()
+
+
+def above_gauge(road):
+    """What the gaps above of a road are reckoned from."""
+    return road._gauges.of_above()
+
+
+def below_gauge(road):
+    """What the gaps below of a road are reckoned from."""
+    return road._gauges.of_below()
 
 
 def check_road(road):

@@ -230,6 +230,21 @@ class TestGaps(Case):
         self.alike(plain_from(more, "below"), 5000)
         self.fails(TooMany("values", 5000), below_growth, more)
 
+    def test_growths_of_as_many_values_as_may_be(self):
+        road = Road(Train(Wheel(250), Divider(20)), Pace((1, 3), (4, 6)), Habit.missing(3, 1))
+        self.assertEqual([len(road.whole.most_growth.gains), len(road.whole.least_growth.gains)], [5000, 5000])
+        for length in (1, 5, 20):
+            self.assertEqual(fraction(above(road, length)), by_words(road, length, (0, 0)))
+            self.assertEqual(fraction(below(road, length)), below_by_words(road, length, (0, 0)))
+        self.assertTrue(above(road, 10 ** 6) == plain_above(road) == 9 + 4999)
+        self.assertTrue(below(road, 10 ** 6) == plain_below(road) == 9 + 4999)
+        slips = Road(Train(Wheel(250), Slips(20)), Pace((1, 1)), Habit.steady(3))
+        growth = below_growth(slips)
+        self.assertEqual(len(growth.gains), 5000)
+        for n in (0, 1, 2, 3, 250, 4999, 5000, 5001, 7000, 10 ** 9):
+            self.assertEqual(growth(n), number_of(slips, below(slips, n)))
+        self.fails(TooMany("values", 5000), below_growth, slips.changed(pace=Pace((60, 1))))
+
     def test_growths_below_of_many_gains(self):
         # Never too many: heads of at most 2,000 values, and gains of the pace and of the train up to 2,000 together.
         for teeth, slips, rules in [((7, 8, 10), Slips(2), ((20, 7),)), ((9,), Slips(3), ((60, 59),)),

@@ -158,6 +158,15 @@ class TestFiles(unittest.TestCase):
                 self.assertNotIn(word, NO_WORDS, name)
 
 
+    def test_strings_with_braces(self):
+        for name, tree in trees().items():
+            for node in ast.walk(tree):
+                if isinstance(node, ast.JoinedStr):
+                    text = ast.get_source_segment(source(name), node)
+                    self.assertEqual(set(text) & set("#\\\n"), set(), (name, node.lineno))
+                    self.assertTrue(text.startswith('f"'), (name, node.lineno))
+
+
 class TestNames(unittest.TestCase):
     def test_names_are_plain_and_free(self):
         for name, tree in trees().items():
