@@ -1,6 +1,6 @@
 """Charts drawn in signs."""
 
-from gaugeroad.charts import Chart, check_columns
+from gaugeroad.charts import Chart, check_columns, rise_between
 from gaugeroad.errors import BadChart, Broken, Forgotten, Nothing, NotYet
 
 MOST_SIGNS = 40
@@ -17,7 +17,7 @@ def drawn(chart, first, after):
 def drawn_column(chart, k):
     """What a column tells, or why it cannot be read."""
     try:
-        return drawn_number(chart[k])
+        return drawn_number(rise_between(chart, k, k + 1))
     except NotYet:
         return "later"
     except Forgotten:

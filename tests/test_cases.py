@@ -80,6 +80,15 @@ class TestCases(Case):
                 self.fails(Nothing(), made, road, 0)
                 self.fails(Nothing(), made, road, 0, (300, 300))
 
+    def test_without_a_pair_nothing_lies_behind(self):
+        road = Road(Train(Wheel(5)), Pace((1, 3), (4, 6)), Habit.missing(3, 1))
+        for made in (case_above, case_below):
+            for length in (1, 4, 9):
+                self.assertEqual(made(road, length), made(road, length, (0, 0)))
+                self.assertEqual(made(road, length).behind, (0, 0))
+        for side in ("above", "below"):
+            self.assertEqual(paper_at_most(road, side, 4), paper_at_most(road, side, 4, (0, 0)))
+
     def test_one_look(self):
         road = Road(Train(Wheel(5)), Pace((1, 1)), Habit.steady(9))
         for made in (case_above, case_below):

@@ -102,10 +102,11 @@ class TestCharts(Case):
 
     def test_drawn_signs(self):
         store = Store(Tiers((1, 100)), 1)
-        for moment, tally in enumerate([0, 1, 40, 81, 100081, 100081]):
+        for moment, tally in enumerate([0, 1, 40, 81, 100081, 100081, 100121]):
             store.pass_to(moment)
             store.put(moment, tally)
-        store.pass_to(6)
+        store.pass_to(7)
+        self.alike(drawn(chart=Chart(store, 0, 1), first=5, after=7), ["5 40 " + "#" * 40, "6 later"])
         self.alike(drawn(chart=Chart(store, 0, 1), first=0, after=5),
                    ["0 1 #", "1 39 " + "#" * 39, "2 41 " + "#" * 40 + "+", "3 100000 " + "#" * 40 + "+", "4 0"])
         self.alike(drawn(Chart(store, 1, 3, Gear(1, 2), 1), 0, 1), ["0 50040 " + "#" * 40 + "+"])

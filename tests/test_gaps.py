@@ -295,6 +295,26 @@ class TestGaps(Case):
         self.fails(TooMany("ticks", 600), aged, slow, "above", 600, 500)
         self.assertTrue(aged(slow, "above", 599, 500) == above(slow, 599, (1, 0)))
 
+    def test_aged_raises_what_one_window_raises(self):
+        road = Road(Train(Wheel(68), Divider(8)), Pace((38, 18)), Habit.steady(41), tiers=Tiers((1, 100), (15, 9999)))
+        raised = []
+        for late in range(15):
+            try:
+                above(road, 1212, (late, 0))
+            except TooMany:
+                raised.append(late)
+        self.assertTrue(raised and 14 not in raised)
+        self.fails(TooMany("ticks", 600), aged, road, "above", 1212, 5)
+        self.assertTrue(aged(road, "above", 2000, 5) == plain_above(road, (14, 0)))
+
+    def test_without_a_pair_nothing_lies_behind(self):
+        road = Road(Train(Wheel(9)), Pace((1, 3), (4, 6)), Habit.missing(3, 1))
+        for length in range(8):
+            self.assertTrue(above(road, length) == above(road, length, (0, 0)))
+            self.assertTrue(below(road, length) == below(road, length, (0, 0)))
+        self.assertTrue(plain_above(road) == plain_above(road, (0, 0)))
+        self.assertTrue(plain_below(road) == plain_below(road, (0, 0)))
+
     def test_errors_in_their_order(self):
         road = Road(Train(Slips(2)), Pace((1, 1)), Habit.steady(3))
         for wrong in OTHERS + [5]:
@@ -311,8 +331,10 @@ class TestGaps(Case):
             self.fails(BadCase("side"), plain_from, road, wrong)
         for wrong in OTHERS + [-1, FAR + 1]:
             for work in (above, below):
-                self.fails(BadNumber(wrong), work, road, wrong, wrong)
-            self.fails(BadNumber(wrong), aged, road, "above", wrong, wrong)
+                self.fails(BadNumber(wrong), work, road, wrong, None)
+                self.fails(BadNumber(wrong), work, road, wrong)
+            self.fails(BadNumber(wrong), aged, road, "above", wrong, None)
+            self.fails(BadNumber(wrong), aged, road, "below", wrong, 0)
             self.fails(BadNumber(wrong), aged, road, "above", FAR, wrong)
         for wrong in OTHERS + [5, (0, 0, 0), [0, 0], (0, -1), (-1, 0), (1001, 0), (0, 1001), (True, 0), (0, False), ("0", 0)]:
             for work in (above, below):

@@ -106,6 +106,11 @@ class TestLags(Case):
             self.assertIs(shows_reach(steady, 2, Reach(rows)), False)
             self.assertIs(shows_reach(steady, 2, rows), False)
         self.assertIs(shows_reach(steady, 2, Reach(((10 ** 41, 7, 10 ** 41 + 2),))), True)
+        self.assertIs(shows_reach(steady, 0, reach_rows(steady, 0)), True)
+        self.alike(reach_rows(steady, 0).rows, ((0,),))
+        for row in ((0, 1), (0, True, 2), (0, 1, None), [0, 1, 2]):
+            self.assertIs(shows_reach(habit, 2, Reach(((0, 1, 2), row))), False)
+            self.assertIs(shows_reach(habit, 2, Reach((row, (0, 1, 2)))), False)
 
     def test_edges(self):
         for habit in (Habit.steady(1), Habit.missing(50, 3), Looks(60, 0, late=59).known(), some(3, length=200)):

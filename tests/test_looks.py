@@ -115,6 +115,8 @@ class TestLooks(Case):
         text = "every 3 late 1 ages 0 2 losses 0 1 / 0 -"
         self.alike(str(Looks(3, 0, 2, late=1, losses=Losses((0, 1), (0, None)))), text)
         self.alike(str(Looks.read(text=text)), text)
+        for period in (1, 60):
+            self.alike(Looks.read(f"every {period} late 0 ages 0 losses 0 -").period, period)
         for wrong, word in [("", 0), ("every", 1), ("every 0", 1), ("every 61 late", 1), ("every 3 late 3", 3),
                             ("every 3 late -1", 3), ("every 3 0", 2), ("every 3 late 1 ages", 5),
                             ("every 3 late 1 ages losses", 5), ("every 3 late 1 ages 1", 5), ("every 3 late 1 ages 0", 6),

@@ -148,11 +148,13 @@ class TestStores(Case):
         for wrong in OTHERS + [19, FAR + 1]:
             self.fails(BadNumber(wrong), store.pass_to, wrong)
         for wrong in OTHERS + [FAR + 1, -FAR - 1]:
-            self.fails(BadNumber(wrong), store.put, wrong, wrong, wrong)
+            self.fails(BadNumber(wrong), store.put, wrong, None, None)
+            self.fails(BadNumber(wrong), store.put, wrong, 0)
             self.fails(BadNumber(wrong), store.look_at, wrong)
             self.fails(BadNumber(wrong), lambda: store[wrong])
         for wrong in OTHERS + [-1, 10 ** 40 + 1]:
-            self.fails(BadNumber(wrong), store.put, 99, wrong, wrong)
+            self.fails(BadNumber(wrong), store.put, 99, wrong, None)
+            self.fails(BadNumber(wrong), store.put, 99, wrong)
         for wrong in OTHERS + [-1, 10 ** 6 + 1]:
             self.fails(BadNumber(wrong), store.put, 99, 5, wrong)
         self.fails(BadStore("ahead"), store.put, 21, 0)
@@ -183,7 +185,11 @@ class TestStores(Case):
             self.assertIs(wrong in store, False)
         self.assertIs(18 in store, True)
         one = Store(Tiers((1, 10)), 2, begin=1)
+        self.assertIs(1 in one, False)
         one.put(1, 7)
+        one.put(1, 7)
+        self.assertEqual(one.kept(), (Look(1, 7),))
+        self.fails(Unlike("look"), one.put, 1, 8)
         self.assertIs(True in one, False)
 
     def test_thinned_looks_play_no_part(self):
@@ -197,6 +203,22 @@ class TestStores(Case):
         store.put(30, 8, 0)
         store.put(29, 8, 0)
         self.fails(Unlike("look"), store.put, 29, 7, 0)
+
+    def test_tiers_at_whose_ages_no_border_is_read(self):
+        # Each border is read at a multiple of 10: at 3 ticks it is old enough, but no longer read at its own moment.
+        store = Store(Tiers((1, 3), (10, 40)), 3)
+        for moment in (0, 1, 9, 10):
+            store.pass_to(moment)
+            store.put(moment, moment)
+        self.assertEqual([look.moment for look in store], [0, 9, 10])
+        store.pass_to(12)
+        self.assertEqual([look.moment for look in store], [0, 10])
+        # The border 9 is read at 0 as long as it is younger than 40 ticks.
+        store.pass_to(48)
+        self.assertEqual([look.moment for look in store], [0, 10])
+        self.assertEqual(store.look_at(9), Look(0, 0))
+        store.pass_to(49)
+        self.assertEqual([look.moment for look in store], [10])
 
     def test_blocks(self):
         store = Store(Tiers((1, 10), (5, 40)), 3)

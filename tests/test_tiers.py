@@ -49,7 +49,8 @@ class TestTiers(Case):
                                (1, None), ("1", 5), 5]:
             self.fails(BadTiers(0), Tiers, wrong, wrong)
         for wrong in OTHERS + [(2, 6), (3, 7), (5, 7), (6, 5), (6, 4), (0, 7), (-4, 7), (9, 7), (2 * 10 ** 6, 7), (4, 7.0),
-                               (6, 10 ** 9 + 1), [4, 7], (4,), (4, 7, 9)]:
+                               (8, 10 ** 9 + 1), (8, 5), (8, 4), (8, -5), (8, True), (8, None), [8, 7], (8,),
+                                (8, 7, 9), (True, 7), (10 ** 6 + 4, 7)]:
             self.fails(BadTiers(2), Tiers, (1, 3), (4, 5), wrong, wrong)
             self.fails(BadTiers(2), lambda: Tiers((1, 3), (4, 5)) | wrong)
         self.fails(TooMany("pairs", 6), Tiers, *SIX, (64, 10 ** 7))
@@ -59,8 +60,10 @@ class TestTiers(Case):
         self.alike((Tiers((1, 1), (2, 2)).oldest, Tiers.MOST), (1, 6))
         tiers = Tiers((1, 10))
         for wrong in OTHERS + [FAR + 1, -FAR - 1]:
-            self.fails(BadNumber(wrong), tiers.grid, wrong, wrong)
-            self.fails(BadNumber(wrong), tiers.offset, wrong, wrong)
+            for age in (0, 10, None):
+                self.fails(BadNumber(wrong), tiers.grid, wrong, age)
+                self.fails(BadNumber(wrong), tiers.offset, wrong, age)
+        self.alike(Tiers((1, 3), (4, 5), (8, 6)).oldest, 5)
         for wrong in OTHERS + [FAR + 1, -1]:
             self.fails(BadNumber(wrong), tiers.width_at, wrong)
             self.fails(BadNumber(wrong), tiers.grid, 0, wrong)
