@@ -64,7 +64,6 @@ class Habit:
         """The habit with this text."""
         words = Words(text)
         states = take_states(words)
-        words.finish()
         return Habit(*states)
 
     def moves(self, state, *choices):

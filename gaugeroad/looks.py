@@ -37,7 +37,6 @@ class Looks:
         """The scheduled looks with this text."""
         words = Words(text)
         period, ages, late, places = take_looks(words)
-        words.finish()
         losses = Losses(*places)
         return Looks(period, *ages, late=late, losses=losses)
 

@@ -58,7 +58,6 @@ class Losses:
         """The loss rule with this text."""
         words = Words(text)
         places = take_places(words)
-        words.finish()
         return Losses(*places)
 
     def within(self, other):

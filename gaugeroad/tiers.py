@@ -30,7 +30,6 @@ class Tiers:
         """The tiers with this text."""
         words = Words(text)
         pairs = take_pairs(words)
-        words.finish()
         return Tiers(*pairs)
 
     @property
