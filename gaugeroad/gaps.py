@@ -122,9 +122,14 @@ def check_behind(behind):
         raise BadNumber(behind)
 
 
+def is_side(value):
+    """Whether any value is a side."""
+    return isinstance(value, str) and value in ("above", "below")
+
+
 def check_side(side):
     """Refuses any value that is no side."""
-    if not isinstance(side, str) or side not in ("above", "below"):
+    if not is_side(side):
         raise BadCase("side")
 
 

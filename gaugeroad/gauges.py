@@ -31,7 +31,11 @@ class AboveGauge:
 
     def plain(self, lag):
         """The plain gap, a lying so far behind."""
-        return self.unit.down * self.pace.top_of(self.hole - 1 + lag) + self.heights.greatest(0, self.rounds - 1)
+        return self.plain_of(self.pace.top_of(self.hole - 1 + lag))
+
+    def plain_of(self, early):
+        """The plain gap if so much can come up to a."""
+        return self.unit.down * early + self.heights.greatest(0, self.rounds - 1)
 
     def gap(self, ticks, lag):
         """The gap, if a and b are read at moments so many ticks apart, and a lies so far behind."""
@@ -53,7 +57,7 @@ class AboveGauge:
             # Longer ways than are asked for serve the next questions, too.
             self.reached = min(MOST_TICKS, 2 * ticks)
             self.walks = Walks(self.habit, self.hole - 1 + self.reached)
-        return [self.walks.span(lag, ticks) for lag in range(self.hole)] if ticks > 0 else [0] * self.hole
+        return [self.walks.span_of(lag, ticks) for lag in range(self.hole)] if ticks > 0 else [0] * self.hole
 
     def tops(self, ticks, lag):
         """For each lag ahead of where a is read, the most that comes up to a, and between the looks."""
@@ -89,12 +93,21 @@ class BelowGauge:
 
     def gap(self, length, lag):
         """The gap of windows of a length, b lying so far behind."""
-        late = self.pace.top_of(self.longest(length, lag))
-        return self.scale * late + self.highest.value_at(self.pace.top_of(length) - late)
+        return self.gap_of(self.pace.top_of(self.longest(length, lag)), self.pace.top_of(length))
+
+    def gap_of(self, late, whole):
+        """The gap if so much can come behind the look at which b is read, and so much in the window."""
+        if whole < late:
+            return self.scale * whole
+        return self.scale * late + self.highest.value_at(whole - late)
 
     def plain(self, lag):
         """The plain gap of an exact train, b lying so far behind."""
-        return self.scale * self.pace.top_of(self.hole - 1 + lag) + self.highest.head[-1]
+        return self.plain_of(self.pace.top_of(self.hole - 1 + lag))
+
+    def plain_of(self, late):
+        """The plain gap of an exact train if so much can come behind the look at which b is read."""
+        return self.scale * late + self.highest.head[-1]
 
 
 class Gauges:

@@ -170,16 +170,21 @@ def all_pieces(states, many):
     """All rows of so many lengths of walks, ascending."""
     found = {(): list(range(len(states)))}
     for _ in range(many):
-        longer = {}
-        for row in found:
-            lengths = sorted(set([length for state in found[row] for length, _ in states[state]]))
-            for length in lengths:
-                longer[(*row, length)] = states_behind(states, found[row], length)
-            # Each row goes on, so there are never fewer longer ones.
-            if len(longer) > MOST_PIECES:
-                raise TooMany("pieces", MOST_PIECES)
-        found = longer
+        found = longer_pieces(states, found)
     return sorted(found)
+
+
+def longer_pieces(states, shorter):
+    """The rows with one more length, each with the states behind it."""
+    longer = {}
+    for row, ends in shorter.items():
+        for length in sorted(set([length for state in ends for length, _ in states[state]])):
+            whole = (*row, length)
+            longer[whole] = states_behind(states, ends, length)
+        # Each row goes on, so there are never fewer rows of more lengths.
+        if len(longer) > MOST_PIECES:
+            raise TooMany("pieces", MOST_PIECES)
+    return longer
 
 
 def take_states(words):

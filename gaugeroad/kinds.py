@@ -28,6 +28,11 @@ def are_counts(value, many):
     return all([is_whole(count) and count >= 0 for count in value])
 
 
+def are_within(value, many, high):
+    """Whether any value is a tuple of so many integers from 0 to high."""
+    return are_counts(value, many) and max([0, *value]) <= high
+
+
 def check_number(value, low, high):
     """Refuses any value that is no integer from low to high."""
     if not is_within(value, low, high):

@@ -35,15 +35,14 @@ def beyond(habit, state, ticks):
 
 def first_looks(habit, ticks):
     """For each state, and each number of ticks, how far the first look so much later can lie, at most."""
-    rows = [[0] for _ in habit.states]
+    columns = [[0 for _ in habit.states]]
     for least in range(1, ticks + 1):
         found = []
         for state in habit.states:
-            found.append(max([length if length >= least else length + rows[after][least - length]
+            found.append(max([length if length >= least else length + columns[least - length][after]
                               for length, after in state]))
-        for row, most in zip(rows, found):
-            row.append(most)
-    return rows
+        columns.append(found)
+    return tuple([tuple([column[state] for column in columns]) for state in range(len(habit.states))])
 
 
 def spans(habit, length):
@@ -51,7 +50,7 @@ def spans(habit, length):
     check_habit(habit)
     check_number(length, 0, MOST_TICKS)
     walks = Walks(habit, habit.hole - 1 + length)
-    return tuple([walks.span(lag, length) for lag in range(habit.hole)])
+    return tuple([walks.span_of(lag, length) for lag in range(habit.hole)])
 
 
 def span_walk(habit, lag, length):
@@ -60,7 +59,7 @@ def span_walk(habit, lag, length):
     check_number(lag, 0, habit.hole - 1)
     check_number(length, 0, MOST_TICKS)
     walks = Walks(habit, lag + length)
-    return walk_of_span(habit, walks, lag, walks.span(lag, length))
+    return walk_of_span(habit, walks, lag, walks.span_of(lag, length))
 
 
 def walk_of_span(habit, walks, lag, span):

@@ -17,7 +17,7 @@ class Line:
             raise BadPlay("looks")
         check_number(begin, -FAR, FAR)
         self.looks = looks
-        self._course = course_of_habit(looks, begin) if isinstance(looks, Habit) else course_of_looks(looks, begin)
+        self._course = course_of(looks, begin)
         self._now = begin
         self._rows = [(begin, True)]
 
@@ -39,13 +39,7 @@ class Line:
     def look(self, moment, kept=True):
         """Takes the next look, and tells the moments of those that become known by it."""
         check_number(moment, self._now, FAR)
-        if not isinstance(kept, bool):
-            raise BadPlay("kept")
-        check_late(self._course, moment)
-        if not self._course.can_look(moment):
-            raise BadPlay("early")
-        if not kept and not self._course.can_lose():
-            raise BadPlay("losses")
+        check_look(self._course, moment, kept)
         found = self._course.known_by(moment, kept)
         self._course = self._course.led_on(moment, kept)
         self._now = moment
@@ -70,6 +64,22 @@ class Line:
         if not isinstance(other, Line) or self.looks != other.looks:
             return False
         return (self.now, self.taken) == (other.now, other.taken)
+
+
+def course_of(looks, begin):
+    """Where a row of looks can be behind a first one at begin."""
+    return course_of_habit(looks, begin) if isinstance(looks, Habit) else course_of_looks(looks, begin)
+
+
+def check_look(course, moment, kept):
+    """Refuses a next look that cannot be taken then, or not be lost."""
+    if not isinstance(kept, bool):
+        raise BadPlay("kept")
+    check_late(course, moment)
+    if not course.can_look(moment):
+        raise BadPlay("early")
+    if not kept and not course.can_lose():
+        raise BadPlay("losses")
 
 
 def check_late(course, moment):

@@ -28,6 +28,6 @@ def is_sure(train, display, pace, hole, times):
 
 def is_unsure(train, display, pace, hole, amounts):
     """Whether any value is what can come in the hole while the reading comes round."""
-    if not are_counts(amounts, hole) or not can_come(pace, amounts):
+    if not are_counts(amounts, hole) or not can_come(pace.rules, amounts):
         return False
     return train.most_of(sum(amounts)) == display.modulus

@@ -36,9 +36,8 @@ class Looks:
     def read(cls, text):
         """The scheduled looks with this text."""
         words = Words(text)
-        period, ages, late, places = take_looks(words)
-        losses = Losses(*places)
-        return Looks(period, *ages, late=late, losses=losses)
+        told = take_looks(words)
+        return looks_of(told)
 
     def known(self):
         """The habit of the looks that become known."""
@@ -120,6 +119,13 @@ def known_states(ways, standings, period, late):
         for less in range(late + 1):
             states.append([(length - less, state) for length, state in rows])
     return states
+
+
+def looks_of(told):
+    """The scheduled looks that a text told."""
+    period, ages, late, places = told
+    losses = Losses(*places)
+    return Looks(period, *ages, late=late, losses=losses)
 
 
 def take_looks(words):

@@ -100,7 +100,7 @@ class Losses:
         return isinstance(other, Losses) and is_within_other(self, other) and is_within_other(other, self)
 
     def __str__(self):
-        return "losses " + " / ".join([text_of_place(place) for place in self.places])
+        return " ".join(["losses", " / ".join([text_of_place(place) for place in self.places])])
 
 
 def is_place(value, many):

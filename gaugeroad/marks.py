@@ -37,9 +37,7 @@ class Marks:
     def read(cls, text):
         """The marks with this text."""
         words = Words(text)
-        period = words.take_number(1, MOST_PERIOD)
-        words.take("at")
-        places = take_places(words, period)
+        period, places = take_marks(words)
         words.finish()
         marks = Marks(period, *places)
         if marks.period != period:
@@ -163,13 +161,20 @@ def least_period(period, places):
     return len(shortest_round(signs))
 
 
+def take_marks(words):
+    """The period and the ascending places that the words of marks tell."""
+    period = words.take_number(1, MOST_PERIOD)
+    words.take("at")
+    return period, take_places(words, period)
+
+
 def take_places(words, period):
-    """The ascending places up to the end, or a stroke where there is none."""
+    """The ascending places up to the end or to a stroke, or a dash where there is none."""
     if words.ahead() == "-":
         words.take("-")
         return []
     places = [words.take_number(0, period - 1)]
-    while not words.is_done():
+    while not (words.is_done() or words.ahead() == "/"):
         places.append(words.take_number(places[-1] + 1, period - 1))
     return places
 

@@ -41,9 +41,7 @@ class Pace:
     def read(cls, text):
         """The pace with this text."""
         words = Words(text)
-        rules = [take_rule(words, (1, 0))]
-        while not words.take_end_or("/", len(rules) < MOST_RULES):
-            rules.append(take_rule(words, rules[-1]))
+        rules = take_rules(words)
         return Pace(*rules)
 
     @property
@@ -136,11 +134,11 @@ def check_pace(pace):
         raise BadPace(None)
 
 
-def can_come(pace, amounts):
-    """Whether amounts that come tick by tick, and nothing around them, keep a pace."""
+def can_come(rules, amounts):
+    """Whether amounts that come tick by tick, and nothing around them, keep rules."""
     sums = [0, *ends_of(amounts)]
     last = len(amounts)
-    for ticks, most in pace.rules:
+    for ticks, most in rules:
         if any([sums[min(at + ticks, last)] - sums[at] > most for at in range(last)]):
             return False
     return True
@@ -150,6 +148,14 @@ def check_other(other):
     """Refuses any value that is no pace to hold against another one."""
     if not isinstance(other, Pace):
         raise BadPace("other")
+
+
+def take_rules(words):
+    """The ascending rules that the words of a pace tell."""
+    rules = [take_rule(words, (1, 0))]
+    while not words.take_end_or("/", len(rules) < MOST_RULES):
+        rules.append(take_rule(words, rules[-1]))
+    return rules
 
 
 def take_rule(words, ahead):

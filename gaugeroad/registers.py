@@ -21,14 +21,9 @@ class Register:
     def read(cls, text):
         """What shows totals as this text says."""
         words = Words(text)
-        kind = words.take("plain", "modulo", "restarting", "dials")
-        numbers = take_numbers(words, kind)
+        kind, numbers = take_display(words)
         words.finish()
-        if kind == "plain":
-            return Plain()
-        if kind == "restarting":
-            return Restarting()
-        return Wrapping(*numbers) if kind == "modulo" else Dials(*numbers)
+        return display_of(kind, numbers)
 
     def shows(self, total, life=0):
         """The reading of a total."""
@@ -254,6 +249,21 @@ def least_total(periods, rests):
         total = fits[0]
         step = lcm(step, period)
     return total
+
+
+def take_display(words):
+    """The word of a kind, and the numbers behind it."""
+    kind = words.take("plain", "modulo", "restarting", "dials")
+    return kind, take_numbers(words, kind)
+
+
+def display_of(kind, numbers):
+    """What shows totals as a word and numbers tell."""
+    if kind == "plain":
+        return Plain()
+    if kind == "restarting":
+        return Restarting()
+    return Wrapping(*numbers) if kind == "modulo" else Dials(*numbers)
 
 
 def take_numbers(words, kind):

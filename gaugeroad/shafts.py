@@ -24,10 +24,7 @@ class Shaft:
     @property
     def total(self):
         """All counts so far."""
-        many = self._units
-        for part, beginning in zip(self.train.parts, self._beginnings):
-            many = part.let_out(beginning, many)
-        return many
+        return counts_from(self.train, self._beginnings, self._units)
 
     @property
     def moved(self):
@@ -61,6 +58,21 @@ class Shaft:
         if not isinstance(other, Shaft) or self.train != other.train:
             return False
         return (self.stands, self.total, self.moved) == (other.stands, other.total, other.moved)
+
+
+def counts_from(train, beginnings, units):
+    """The counts of a train from right beginnings on, while any number of units come."""
+    many = units
+    for part, beginning in zip(train.parts, beginnings):
+        many = part.let_out(beginning, many)
+    return many
+
+
+def are_beginnings(train, value):
+    """Whether any value is a tuple of right beginnings of a train."""
+    if not isinstance(value, tuple) or len(value) != len(train.parts):
+        return False
+    return all([part.is_beginning(beginning) for part, beginning in zip(train.parts, value)])
 
 
 def best_beginnings(train, d):

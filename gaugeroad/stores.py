@@ -24,11 +24,12 @@ class Look:
 
 
 class State:
-    """What a store has at a moment: its looks, and up to when none of them is thinned away."""
+    """What a store has at a moment: its looks, up to when each is needed, and up to when all are."""
 
-    def __init__(self, moment, looks, until):
+    def __init__(self, moment, looks, untils, until):
         self.moment = moment
         self.looks = looks
+        self.untils = untils
         self.until = until
 
 
@@ -44,7 +45,7 @@ class Store:
             raise BadStore("patience")
         self.tiers = tiers
         self.patience = patience
-        self._state = State(begin, (), FAR)
+        self._state = State(begin, (), (), FAR)
 
     @property
     def now(self):
@@ -54,10 +55,8 @@ class Store:
     def pass_to(self, moment):
         """Leads it to a moment."""
         check_number(moment, self.now, FAR)
-        if moment > self._state.until:
-            self._state = thinned(self, moment, self._state.looks)
-        else:
-            self._state = State(moment, self._state.looks, self._state.until)
+        state = self._state
+        self._state = thinned(State(moment, state.looks, state.untils, state.until))
 
     def put(self, moment, tally, life=0):
         """Makes a look known."""
@@ -76,7 +75,9 @@ class Store:
                 raise Unlike("look")
             return
         check_between(look, looks[at - 1:at], looks[at:at + 1])
-        self._state = thinned(self, self.now, (*looks[:at], look, *looks[at:]))
+        untils = untils_with(self, moment, at)
+        state = State(self.now, (*looks[:at], look, *looks[at:]), untils, min(untils))
+        self._state = thinned(state)
 
     def look_at(self, border):
         """The look at which a border is read now."""
@@ -165,13 +166,23 @@ def look_of(store, border):
     return looks[at - 1]
 
 
-def thinned(store, moment, looks):
-    """The state of a store at a moment, of these looks just those that are needed."""
-    untils = [kept_until(store, look.moment, after.moment) for look, after in zip(looks, looks[1:])]
+def untils_with(store, moment, at):
+    """Up to when the looks of a store are needed, with one more at a place."""
+    looks, untils = store._state.looks, store._state.untils
+    # Only for the look ahead of it another one is the next now.
+    ahead = [kept_until(store, look.moment, moment) for look in looks[at - 1:at]]
     # The last look is always needed: borders behind it will be read.
-    rows = [look for look, until in zip(looks, untils) if until >= moment]
-    until = min([until for until in untils if until >= moment], default=FAR)
-    return State(moment, (*rows, *looks[-1:]), until)
+    own = kept_until(store, moment, looks[at].moment) if at < len(looks) else FAR
+    return (*untils[:max(0, at - 1)], *ahead, own, *untils[at:])
+
+
+def thinned(state):
+    """The same state with just the looks that are needed at its moment."""
+    if state.moment <= state.until:
+        return state
+    looks = [look for look, until in zip(state.looks, state.untils) if until >= state.moment]
+    untils = [until for until in state.untils if until >= state.moment]
+    return State(state.moment, tuple(looks), tuple(untils), min(untils))
 
 
 def kept_until(store, moment, after):

@@ -97,6 +97,14 @@ def check_border(tiers, moment, age):
         raise Forgotten(moment)
 
 
+def take_tiers(words):
+    """The pairs that the words of tiers tell, None for the word none."""
+    if words.ahead() == "none":
+        words.take("none")
+        return None
+    return take_pairs(words)
+
+
 def take_pairs(words):
     """The pairs that the words of tiers tell."""
     pairs = [(words.take_number(1, 1), words.take_number(1, MOST_KEEP))]

@@ -30,8 +30,7 @@ class Train:
         words = Words(text)
         told = take_parts(words)
         words.finish()
-        parts = [part_of(word, numbers) for word, numbers in told]
-        return Train(*parts)
+        return train_of(told)
 
     @property
     def least_growth(self):
@@ -153,16 +152,27 @@ def take_parts(words):
     return told
 
 
+def train_of(told):
+    """The train of the parts that a text told."""
+    parts = [part_of(word, numbers) for word, numbers in told]
+    return Train(*parts)
+
+
 def take_part(words, kinds):
     """The word of a part and its numbers."""
     kind = words.take(*kinds)
     if kind == "wheel":
         return kind, take_teeth(words)
     if kind == "gear":
-        up = words.take_number(1, MOST_NUMBER)
-        return kind, [up, words.take_among([k for k in range(1, MOST_NUMBER + 1) if gcd(up, k) == 1])]
+        return kind, take_gear(words)
     of = words.take_number(2, MOST_NUMBER)
     return kind, [of, words.take_number(1, of - 1)]
+
+
+def take_gear(words):
+    """Both numbers of a gear, in lowest terms."""
+    up = words.take_number(1, MOST_NUMBER)
+    return [up, words.take_among([k for k in range(1, MOST_NUMBER + 1) if gcd(up, k) == 1])]
 
 
 def take_teeth(words):

@@ -12,7 +12,7 @@ class Walks:
         """How far behind a look in a state the last look up to so many ticks later can lie, at most."""
         return last_bit(self.sums[state], ticks)
 
-    def span(self, lag, length):
+    def span_of(self, lag, length):
         """How many ticks can lie between the looks ahead of a moment of this lag and of one so much later."""
         return max(0, last_bit(self.firsts[lag], lag + length))
 

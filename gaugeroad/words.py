@@ -19,9 +19,10 @@ def is_number_word(word):
 class Words:
     """The words of a text, parted at single spaces and taken one by one."""
 
-    def __init__(self, text):
+    def __init__(self, text, line=0):
         if not isinstance(text, str):
-            raise BadText(0, 0)
+            raise BadText(line, 0)
+        self.line = line
         self.words = text.split(" ")
         self.place = 0
 
@@ -37,9 +38,13 @@ class Words:
         """The next word, an empty string behind the last one."""
         return "" if self.is_done() else self.words[self.place]
 
+    def has_behind(self, sign):
+        """Whether a word stands behind the next one."""
+        return sign in self.words[self.place + 1:self.place + 2]
+
     def refuse(self):
         """Tells that the next word cannot stand, or that it is missing."""
-        raise BadText(0, self.place)
+        raise BadText(self.line, self.place)
 
     def take(self, *options):
         """Takes the next word, which is to be one of the options."""
@@ -57,10 +62,14 @@ class Words:
         self.place += 1
         return int(word)
 
+    def has_number(self, low, high):
+        """Whether the next word is an integer from low to high."""
+        word = self.ahead()
+        return is_number_word(word) and low <= int(word) <= high
+
     def take_number(self, low, high):
         """Takes an integer from low to high."""
-        word = self.ahead()
-        if not is_number_word(word) or not low <= int(word) <= high:
+        if not self.has_number(low, high):
             self.refuse()
         return self.take_integer()
 

@@ -43,7 +43,7 @@ class TestExamples(unittest.TestCase):
                     self.assertTrue(same(eval(line, names), eval(told, {})), line)
 
     def test_document(self):
-        self.assertEqual(len({heading for heading, _, _ in steps(FILE)}), 24)
+        self.assertEqual(len({heading for heading, _, _ in steps(FILE)}), 33)
         self.check(FILE)
 
     def test_readme(self):

@@ -2,6 +2,7 @@
 
 import ast
 import builtins
+import functools
 import os
 import re
 import unittest
@@ -33,7 +34,9 @@ NO_PIECES = ("dataclass", "overload", "contextmanager", "(type)", "Meta", "metac
 NO_ATTRIBUTES = set("""items keys values pop update append clear extend insert remove reverse setdefault sort args
 encode decode hex fromhex format format_map mro as_integer_ratio bit_count conjugate from_bytes is_integer
 to_bytes real imag numerator denominator""".split())
-# Later parts of the package have methods of these names, so sets would have to do without them.
+VIEWS = ("items", "keys", "values")
+CHANGING = ("append", "extend", "insert", "pop", "remove", "reverse", "sort", "clear", "update", "setdefault")
+# A class of the package has a method of such a name, so sets have to do without them.
 NO_SET_CALLS = {"add", "discard"}
 
 
@@ -46,6 +49,7 @@ def source(name):
         return handle.read()
 
 
+@functools.lru_cache(maxsize=None)
 def trees():
     return {name: ast.parse(source(name)) for name in files()}
 
@@ -90,6 +94,52 @@ def is_plain(node):
     if isinstance(node, ast.Tuple):
         return all(is_plain(item) for item in node.elts)
     return False
+
+
+def is_table(node, above):
+    """Whether a module-level expression is a dict of plain values, or of functions above it."""
+    if not isinstance(node, ast.Dict):
+        return False
+    words = [isinstance(key, ast.Constant) for key in node.keys]
+    values = [is_plain(one) or (isinstance(one, ast.Name) and one.id in above) for one in node.values]
+    return all(words) and all(values)
+
+
+def aliases(node):
+    """Which names and attributes a function gives to names, as they are."""
+    found = []
+    for one in ast.walk(node):
+        if not isinstance(one, ast.Assign):
+            continue
+        for target in one.targets:
+            pairs = [(target, one.value)]
+            if isinstance(target, ast.Tuple) and isinstance(one.value, ast.Tuple):
+                pairs = list(zip(target.elts, one.value.elts))
+            found.extend((ast.unparse(left), ast.unparse(right)) for left, right in pairs
+                         if isinstance(right, (ast.Name, ast.Attribute)))
+    return found
+
+
+def walked(node):
+    """The names and attributes that a loop goes over, also through enumerate, zip and views."""
+    if isinstance(node, (ast.Name, ast.Attribute)):
+        return [ast.unparse(node)]
+    if is_call_of(node, "enumerate", "zip", "reversed", "list", "sorted"):
+        plain = is_call_of(node, "list", "sorted")
+        return [] if plain else [name for arg in node.args for name in walked(arg)]
+    if isinstance(node, ast.Call) and isinstance(node.func, ast.Attribute) and node.func.attr in VIEWS:
+        return walked(node.func.value)
+    return walked(node.value) if isinstance(node, ast.Subscript) else []
+
+
+def changed_in(rows):
+    """The names and attributes that statements change in place."""
+    for row in rows:
+        for one in ast.walk(row):
+            if isinstance(one, ast.Subscript) and not isinstance(one.ctx, ast.Load):
+                yield ast.unparse(one.value)
+            elif isinstance(one, ast.Call) and isinstance(one.func, ast.Attribute) and one.func.attr in CHANGING:
+                yield ast.unparse(one.func.value)
 
 
 def bound_names(tree):
@@ -245,7 +295,7 @@ class TestNames(unittest.TestCase):
                     self.assertNotIn(node.func.attr, NO_SET_CALLS, name)
                 else:
                     self.assertIsInstance(node.func, ast.Name, name)
-                    self.assertIn(node.func.id, own | boxes | BUILTINS | LIBRARY["math"] | {"cls", "work"}, name)
+                    self.assertIn(node.func.id, own | boxes | BUILTINS | LIBRARY["math"] | {"cls", "work", "action"}, name)
 
 
 class TestStatements(unittest.TestCase):
@@ -292,13 +342,16 @@ class TestStatements(unittest.TestCase):
 
     def test_module_level(self):
         for name, tree in trees().items():
+            above = []
             for node in tree.body:
+                if isinstance(node, ast.FunctionDef):
+                    above.append(node.name)
                 if isinstance(node, ast.Expr):
                     self.assertIsInstance(node.value, ast.Constant, name)
                 elif isinstance(node, ast.Assign):
                     self.assertEqual(len(node.targets), 1)
                     self.assertIsInstance(node.targets[0], ast.Name)
-                    self.assertTrue(is_plain(node.value), (name, node.lineno))
+                    self.assertTrue(is_plain(node.value) or is_table(node.value, above), (name, node.lineno))
                 else:
                     self.assertIsInstance(node, (ast.ImportFrom, ast.FunctionDef, ast.ClassDef), name)
 
@@ -379,6 +432,36 @@ class TestStatements(unittest.TestCase):
                     self.assertFalse(is_call_of(node.value, "range", "zip", "enumerate"), (name, node.lineno))
 
 
+    def test_no_star_in_an_index(self):
+        for name, tree in trees().items():
+            for node in ast.walk(tree):
+                if isinstance(node, ast.Subscript):
+                    for inner in ast.walk(node.slice):
+                        self.assertNotIsInstance(inner, ast.Starred, (name, node.lineno))
+
+    def test_what_is_walked_is_not_changed(self):
+        for name, tree in trees().items():
+            for node in functions(tree):
+                names = aliases(node)
+                for loop in ast.walk(node):
+                    if isinstance(loop, ast.For):
+                        over = set(walked(loop.iter))
+                        # A name that ever stands for what is walked counts as that.
+                        over |= {one for pair in names if set(pair) & over for one in pair}
+                        self.assertEqual(over & set(changed_in(loop.body)), set(), (name, loop.lineno))
+
+    def test_tables_are_only_read(self):
+        for name, tree in trees().items():
+            kept = parents(tree)
+            tables = [one.targets[0].id for other in trees().values() for one in other.body
+                      if isinstance(one, ast.Assign) and isinstance(one.value, (ast.Dict, ast.List))]
+            for node in ast.walk(tree):
+                if isinstance(node, ast.Name) and node.id in tables and isinstance(node.ctx, ast.Load):
+                    around = kept[node]
+                    reads = isinstance(around, (ast.Subscript, ast.Compare))
+                    asks = isinstance(around, ast.Attribute) and around.attr == "get"
+                    self.assertTrue(reads or asks, (name, node.lineno))
+
     def test_generators(self):
         made = [(name, node) for name, tree in trees().items() for node in functions(tree) if is_generator(node)]
         words = [node.name for _, node in made]
@@ -406,7 +489,7 @@ class TestStatements(unittest.TestCase):
             for node in ast.walk(tree):
                 if isinstance(node, ast.ExceptHandler):
                     told = node.type.elts if isinstance(node.type, ast.Tuple) else [node.type]
-                    self.assertLessEqual({one.id for one in told}, own - {"RoadError"}, name)
+                    self.assertLessEqual({one.id for one in told}, own, name)
                 if isinstance(node, ast.Try):
                     self.assertEqual(node.finalbody, [], name)
 
@@ -466,6 +549,11 @@ class TestClasses(unittest.TestCase):
                     self.assertIsInstance(node.body[-1], ast.Return, place)
                 if node.name == "__iter__":
                     self.assertEqual(len(node.body), 1, place)
+                for inner in ast.walk(node):
+                    if isinstance(inner, ast.Return) and node.name in ("__str__", "__repr__"):
+                        self.assertTrue(is_text(inner.value), place)
+                    if isinstance(inner, ast.Return) and node.name == "__len__":
+                        self.assertTrue(is_call_of(inner.value, "len"), place)
                 if node.name == "__init__":
                     self.assertFalse([one for one in ast.walk(node) if isinstance(one, ast.Return)], place)
 
@@ -491,6 +579,17 @@ class TestClasses(unittest.TestCase):
                 word = call.func.id if isinstance(call.func, ast.Name) else call.func.attr
                 ahead.extend(named.get(word, []))
         self.assertGreater(len(seen), 100)
+
+
+def is_text(node):
+    """Whether an expression is a string, an f-string, str(..), repr(..) or the join of a literal."""
+    if isinstance(node, ast.JoinedStr) or is_call_of(node, "str", "repr"):
+        return True
+    if isinstance(node, ast.Constant):
+        return isinstance(node.value, str)
+    if not isinstance(node, ast.Call) or not isinstance(node.func, ast.Attribute) or node.func.attr != "join":
+        return False
+    return isinstance(node.func.value, ast.Constant)
 
 
 def named_functions():
