@@ -122,8 +122,8 @@ def is_at_most_above(road, paper):
         sums = sums_of_covers(road.pace, paper.covers[lag], lag + paper.behind[0], span)
         if sums is None:
             return False
-        # Without a look in the window nothing is told of it.
-        if span > 0 and not keeps(road, paper.number, gauge.gap_of(sums[0], sums[1])):
+        # Without a look in the window nothing is told of it: that is no gap above the truth.
+        if not keeps(road, paper.number, gauge.gap_of(sums[0], sums[1]) if span > 0 else 0):
             return False
     return True
 
