@@ -76,6 +76,8 @@ def take_beginning(words):
     if not words.has_number(1, MOST_PERIOD) or not words.has_behind("at"):
         return words.take_integer()
     period, places = take_marks(words)
+    if not words.is_done() and words.ahead() != "/":
+        words.refuse()
     marks = Marks(period, *places)
     # The text of these marks has their least period.
     if marks.period != period:
