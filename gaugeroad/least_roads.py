@@ -131,6 +131,6 @@ def is_bar(road, shelf, wish, value, bar):
     if value[1] == bar[1]:
         return True
     # A refused choice has no road that could lack a part.
-    if bar[1] == "road" or not isinstance(value[1], str) or value[1] not in WISHED_PARTS:
+    if bar[1] == "road" or value[1] not in WISHED_PARTS:
         return False
     return lacks_part(wish, shelf.road_by(road, bar[0]), value[1])

@@ -54,7 +54,7 @@ def shows_surely(road, alarm, ticks, value):
     check_number(ticks, 1, MOST_TICKS)
     check_watched(road, alarm.columns)
     need, span = road.whole.least_for(alarm.on), span_of_columns(road, alarm.columns)
-    if not isinstance(value, Surely) or not is_whole(value.amount) or value.amount < 1:
+    if not isinstance(value, Surely) or not is_whole(value.amount):
         return False
     rules = [*road.pace.rules, (ticks, value.amount)]
     if not can_be(rules, value.amounts, span, need) or not are_beginnings(road.whole, value.beginnings):

@@ -3,8 +3,6 @@
 from gaugeroad.compared import Narrow, OtherWindow, SameWindows, Wider, check_fine_trains, check_roads, first_wider
 from gaugeroad.compared import leads_of, pairs_of_growths
 from gaugeroad.errors import BadCase
-from gaugeroad.gaps import is_side
-from gaugeroad.growths import Growth
 from gaugeroad.kinds import is_whole, is_within
 from gaugeroad.look_gaps import shows_at_most, weigh
 from gaugeroad.papers import AtMost
@@ -19,8 +17,8 @@ def shows_never_wider(one, other, value):
     if isinstance(value, Narrow):
         pairs = pairs_of_growths(one, other)
         is_narrow = first_wider(leads_of(one, other, pairs)) is None
-        return is_narrow and are_growths(value.above, pairs[0]) and are_growths(value.below, pairs[1])
-    if not isinstance(value, Wider) or not is_side(value.side) or not is_whole(value.length):
+        return is_narrow and (value.above, value.below) == pairs
+    if not isinstance(value, Wider) or not is_whole(value.length):
         return False
     gap = gap_of_case(one, value)
     if gap is None or not is_paper_of(value) or not shows_at_most(other, value.paper):
@@ -32,18 +30,11 @@ def shows_alike_windows(one, other, value):
     """Whether any value is a right answer to whether two fine trains can let out the same numbers of counts."""
     check_fine_trains(one, other)
     if isinstance(value, SameWindows):
-        lows, highs = (one.least_growth, other.least_growth), (one.most_growth, other.most_growth)
-        return are_growths((value.lows, value.lows), lows) and are_growths((value.highs, value.highs), highs)
+        growths = [(train.least_growth, train.most_growth) for train in (one, other)]
+        return all([(value.lows, value.highs) == pair for pair in growths])
     if not isinstance(value, OtherWindow) or not is_within(value.amount, 0, FAR) or not is_whole(value.counts):
         return False
     return lets_alone(one, other, value) or lets_alone(other, one, value)
-
-
-def are_growths(value, pair):
-    """Whether any value is a tuple of just these growths."""
-    if not isinstance(value, tuple) or not all([isinstance(growth, Growth) for growth in value]):
-        return False
-    return value == pair
 
 
 def gap_of_case(road, wider):

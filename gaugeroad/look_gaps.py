@@ -32,7 +32,6 @@ def weigh(road, case):
 
 def shows_case(road, case, number):
     """Whether any value is a case of a road with just this gap."""
-    check_road(road)
     try:
         told, truth = weigh(road, case)
     except BadCase:

@@ -132,7 +132,7 @@ class Player:
 
     def change(self, name, value):
         """Sets the zoom, the scroll or the alarm."""
-        if not isinstance(name, str) or name not in ("zoom", "scroll", "alarm"):
+        if name not in ("zoom", "scroll", "alarm"):
             raise BadPlay("name")
         set_part(self, name, value)
 

@@ -110,14 +110,9 @@ class Shelf:
         return isinstance(other, Shelf) and in_order(self._things) == in_order(other._things)
 
 
-def is_kind(value):
-    """Whether any value is the word of a kind."""
-    return isinstance(value, str) and value in KINDS
-
-
 def check_kind(kind):
     """Refuses any value that is no word of a kind."""
-    if not is_kind(kind):
+    if kind not in KINDS:
         raise BadShelf("kind")
 
 
@@ -144,11 +139,7 @@ def names_of(things, kind):
 
 def is_place(things, value):
     """Whether any value is a pair of a kind and of a name of it."""
-    if not isinstance(value, tuple) or len(value) != 2:
-        return False
-    if not is_kind(value[0]) or not isinstance(value[1], str):
-        return False
-    return value[1] in names_of(things, value[0])
+    return isinstance(value, tuple) and len(value) == 2 and value[1] in names_of(things, value[0])
 
 
 def thing_of(things, kind, name):

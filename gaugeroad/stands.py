@@ -15,10 +15,12 @@ class Setting:
         told[name] = value
         return Setting(**told)
 
+    def told(self):
+        """All that it was made of."""
+        return self.zoom, self.scroll, self.alarm
+
     def __eq__(self, other):
-        if not isinstance(other, Setting):
-            return False
-        return (self.zoom, self.scroll, self.alarm) == (other.zoom, other.scroll, other.alarm)
+        return isinstance(other, Setting) and self.told() == other.told()
 
 
 class Stand:

@@ -73,9 +73,9 @@ class TestAlarm(Case):
 
     def test_errors_in_their_order(self):
         for wrong in OTHERS + [0, 51, -1]:
-            self.fails(BadNumber(wrong), Alarm, wrong, wrong, wrong)
+            self.fails(BadNumber(wrong), Alarm, wrong, -7, -7)
         for wrong in OTHERS + [0, 10 ** 20 + 1]:
-            self.fails(BadNumber(wrong), Alarm, 1, wrong, wrong)
+            self.fails(BadNumber(wrong), Alarm, 1, wrong, -7)
         for wrong in [other for other in OTHERS if other is not None] + [0, 6, -1]:
             self.fails(BadAlarm("off"), Alarm, 1, 5, wrong)
 

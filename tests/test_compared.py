@@ -12,10 +12,11 @@ from gaugeroad.gaps import above, above_growth, below, below_growth
 from gaugeroad.growths import Growth
 from gaugeroad.habits import Habit
 from gaugeroad.look_compared import shows_alike_windows, shows_never_wider
+from gaugeroad.look_gaps import weigh
 from gaugeroad.looks import Looks
 from gaugeroad.losses import Losses
 from gaugeroad.paces import Pace
-from gaugeroad.papers import AtMost, paper_at_most
+from gaugeroad.papers import AtMost, paper_always, paper_at_most
 from gaugeroad.parts import Divider, Gear, Slips, Wheel
 from gaugeroad.ratios import Ratio
 from gaugeroad.registers import Restarting, Wrapping
@@ -208,6 +209,20 @@ class TestRoads(Case):
         behind = Wider("above", 4, case, paper_at_most(slow, "above", 4, (1, 1)))
         self.assertIs(shows_never_wider(fast, slow, behind), False)
         self.assertIs(shows_never_wider(slow, fast, told), False)
+        longer = Wider("above", 4, case_above(fast, 5), paper)
+        self.assertTrue(paper.number.less(above(fast, 5)))
+        self.assertIs(shows_never_wider(fast, slow, longer), False)
+        big = slow.changed(train=Train(Wheel(50)))
+        self.assertIs(shows_never_wider(big, slow, Wider("above", 4, case_above(big, 4), paper)), True)
+        self.assertIs(shows_never_wider(big, slow, Wider("above", 4, case_above(big, 4), paper_always(slow, "above"))), False)
+        lossy, plain = (slow.changed(train=train) for train in (Train(Slips(2)), Train()))
+        # A case below is none above, however wide its gap is.
+        wider = Wider("above", 9, case_below(lossy, 9), paper_at_most(plain, "above", 9))
+        self.assertIs(shows_never_wider(lossy, plain, wider), False)
+        self.assertIs(shows_never_wider(lossy, plain, Wider("below", 9, case_below(lossy, 9), paper_at_most(plain, "below", 9))), True)
+        equal = Wider("below", 9, case_below(lossy, 9), paper_at_most(lossy, "below", 9))
+        self.assertTrue(weigh(lossy, equal.case)[0] != 0)
+        self.assertIs(shows_never_wider(lossy, lossy, equal), False)
 
     def test_papers(self):
         for kind, parts, truth in [(Narrow, ["above", "below"], True), (Wider, ["side", "length", "case", "paper"], False),
@@ -269,6 +284,9 @@ class TestWindows(Case):
         far = OtherWindow(10 ** 30, 2 * 10 ** 29, (0,))
         self.assertIs(shows_alike_windows(one, Train(Wheel(4)), far), True)
         self.assertIs(shows_alike_windows(one, other, far), False)
+        over = OtherWindow(10 ** 30 + 1, 2 * 10 ** 29, (0,))
+        self.assertIs(shows_alike_windows(one, Train(Wheel(4)), over), False)
+        self.assertIs(shows_alike_windows(one, Train(Wheel(4)), OtherWindow(-1, -1, (0,))), False)
         same_growths = SameWindows(one.least_growth, one.most_growth)
         self.assertIs(shows_alike_windows(one, one, same_growths), True)
         self.assertIs(shows_alike_windows(one, other, same_growths), False)

@@ -34,13 +34,13 @@ class TestDeeds(Case):
     def test_texts(self):
         told = {"tick 3": ("tick", 3), "tick 0": ("tick", 0), f"tick {FAR}": ("tick", FAR), "look": ("look",), "lost": ("lost",),
                 "restart": ("restart",), "scroll 0": ("scroll", 0), "scroll 1000000000": ("scroll", 10 ** 9),
-                "alarm none": ("alarm", None)}
+                "alarm none": ("alarm", None), "scroll 1": ("scroll", 1), "tick 1": ("tick", 1)}
         for text, deed in told.items():
             self.alike(told_deed(text), deed)
         for text, gear in (("zoom 1 2", Gear(1, 2)), ("zoom 60 59", Gear(60, 59)), ("zoom 1 1", Gear(1, 1))):
             word, value = told_deed(text=text)
             self.assertTrue(word == "zoom" and isinstance(value, Gear) and value == gear)
-        for text, alarm in (("alarm 2 3 1", Alarm(2, 3, 1)), (f"alarm 50 {10 ** 20} {10 ** 20}", Alarm(50, 10 ** 20))):
+        for text, alarm in (("alarm 2 3 1", Alarm(2, 3, 1)), ("alarm 1 1 1", Alarm(1, 1)), (f"alarm 50 {10 ** 20} {10 ** 20}", Alarm(50, 10 ** 20))):
             word, value = told_deed(text)
             self.assertTrue(type(told_deed(text)) is tuple and word == "alarm" and value == alarm)
 

@@ -232,6 +232,26 @@ class TestDesk(Case):
         self.assertEqual([desk("undo"), desk("now"), desk("known")], ["width", "6", "5"])
         self.assertEqual(desk("log").split(" ; ")[-4:], ["begin 5", "lead 2", "part 4", "tick 3"])
 
+    def test_answers_of_alarms(self):
+        desk = Desk()
+        desk.run("train wheel 5", "pace 1 3 / 4 6", "habit 3 0", "width 6", "alarm 2 2 1")
+        self.alike(desk.run("heard 11 7", "heard 13 7", "heard 6 8", "covers 7", "covers 8", "tells", "surely 4", "level 11 7"),
+                   ["heard", "never", "uncovered", "yes", "no", "6 12", "2", "2"])
+        self.alike(desk.run("alarm 2 3 1", "heard 11 7", "alarm 2 5 5", "tells", "heard 11 7"),
+                   ["ok", "missed", "ok", "silent", "missed"])
+        self.fails(Nothing(), desk, "surely 4")
+        desk.run("width 1", "begin 0 0 / 4", "do alarm 1 1 1", "do tick 3", "do tick 0", "do tick 0", "do look")
+        self.alike(desk.run("known", "went", "do tick 0", "went", "known", "column 0"), ["0 3", "-", "ok", "3", "0 3", "0"])
+        self.alike(desk.run("rise 3", "column 2", "gap 2", "gap 0", "now", "alike wheel 3", "rows"),
+                   ["1", "1", "5", "-3", "4", "parted 000", "5 at 0"])
+
+    def test_edges_of_numbers(self):
+        desk = Desk()
+        desk.run("train -", "pace 1 1", "habit 1 0", "width 1000", "zoom 60 59", f"begin {-10 ** 18} 999", f"above {FAR}")
+        self.assertEqual((desk.road_now.width, desk.play_now().lead, desk("now")), (1000, 999, str(-10 ** 18)))
+        self.alike(desk.run("alarm 50 100000000000000000000 1", "width 1", f"begin {10 ** 18} 0"), ["ok"] * 3)
+        self.fails(BadNumber(999), desk, "begin 0 999")
+
     def test_run_all_or_none(self):
         desk = Desk()
         desk.run("train wheel 5", "pace 1 3")

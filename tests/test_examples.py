@@ -48,7 +48,7 @@ class TestExamples(unittest.TestCase):
 
     def test_readme(self):
         readme = os.path.join(os.path.dirname(os.path.dirname(FILE)), "README.md")
-        self.assertEqual(len(steps(readme)), 14)
+        self.assertEqual(len(steps(readme)), 29)
         self.check(readme)
 
 

@@ -135,6 +135,16 @@ class TestWeigh(Case):
             self.fails(BadRoad("road"), weigh, value if not isinstance(value, Road) else 5, right)
             self.fails(BadRoad("road"), shows_case, 5, value, value)
 
+    def test_looks_just_beside_the_window(self):
+        road = Road(Train(Wheel(5)), Pace((1, 3)), Habit.steady(3))
+        for a, b, looks, wanted in [(3, 8, (3, 6, 9), True), (3, 8, (0, 3, 6, 9), False), (5, 8, (3, 6, 9), True),
+                                    (6, 8, (3, 6, 9), False), (2, 8, (3, 6, 9), False), (3, 9, (3, 6, 9), False),
+                                    (3, 9, (3, 6, 9, 12), True), (3, 6, (3, 6, 9), True), (3, 5, (3, 6, 9), False)]:
+            case = RoadCase("above", (a, b), (0, 0), looks, ((0, 0),), (0, 0))
+            self.assertIs(shows_case(road, case, Ratio(0)), wanted, (a, b, looks))
+            behind = RoadCase("above", (a + 2, b + 4), (2, 4), looks, ((0, 0),), (0, 0))
+            self.assertIs(shows_case(road, behind, Ratio(0)), wanted, (a, b, looks))
+
     def test_causes(self):
         road = Road(Train(Wheel(5)), Pace((1, 3)), Habit.steady(3))
         right = case_below(road, 5)
@@ -281,6 +291,24 @@ class TestPapers(Case):
                 plain = 3 * right_cover[0] + 6 * right_cover[1] + 4
                 self.assertIs(shows_at_most(road, Always(side, Ratio(plain), right_cover)), True)
                 self.assertIs(shows_at_most(road, Always(side, Ratio(plain) - Ratio(1, 9), right_cover)), False)
+
+    def test_covers_of_what_lies_behind(self):
+        road = Road(Train(Wheel(5)), Pace((1, 1)), Habit.steady(2))
+        for late in (0, 1, 5):
+            told = spans(road.habit, 4 + late)
+            right = tuple(((lag + late,), (told[lag],)) for lag in range(2))
+            self.assertIs(shows_at_most(road, AtMost("above", 4, (late, 0), Ratio(99), right)), True)
+            for lag in (0, 1):
+                for pair in (((lag + late - 1,), (told[lag],)), ((lag + late,), (told[lag] - 1,))):
+                    covers = tuple(pair if at == lag else one for at, one in enumerate(right))
+                    self.assertIs(shows_at_most(road, AtMost("above", 4, (late, 0), Ratio(99), covers)), False)
+        for behind in ((1, 0), (2, 0), (2, 1)):
+            for side, covers in (("above", (((9,), (9,)),) * 2), ("below", ((9,), (9,)))):
+                self.assertIs(shows_at_most(road, AtMost(side, 0, behind, Ratio(99), covers)), True)
+                self.assertIs(shows_at_most(road, AtMost(side, -1, behind, Ratio(99), covers)), False)
+        for many, wanted in ((10 ** 30, True), (10 ** 30 + 1, False)):
+            for side in ("above", "below"):
+                self.assertIs(shows_at_most(road, Always(side, Ratio(10 ** 31), (many,))), wanted)
 
     def test_a_lag_without_a_look_counts_as_nothing(self):
         road = Road(Train(Wheel(5)), Pace((1, 1)), Habit.steady(9))

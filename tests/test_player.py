@@ -34,7 +34,8 @@ from test_shafts import total_of
 TRAINS = [Train(), Train(Wheel(3)), Train(Wheel(1, 2, 3)), Train(Wheel(2, 1), Divider(2)), Train(Wheel(1, 1, 3), Slips(3)),
           Train(Gear(2, 3), Slips(4, lost=2))]
 LOOKS = [Habit.steady(3), Habit.missing(2, 1), Habit.loose(3, 1), Looks(3, 0), Looks(2, 0, 1, losses=Losses.runs(1, 1)),
-         Looks(3, 0, 2, late=1, losses=Losses.share(1, 3))]
+         Looks(3, 0, 2, late=1, losses=Losses.share(1, 3)), Looks(2, 0, losses=Losses.runs(1, 1)),
+         Looks(3, 0, 1, losses=Losses.runs(2, 1))]
 DISPLAYS = [Plain(), Wrapping(2), Wrapping(50), Dials(3, 4), Restarting()]
 TIERS = [None, None, Tiers((1, 12)), Tiers((1, 10), (3, 20), (6, 60)), Tiers((1, 14), (2, 18), (10, 100))]
 PACE = Pace((1, 4), (3, 7), (5, 10))
@@ -363,6 +364,28 @@ class TestPlays(Case):
         player.tick(1)
         self.assertEqual(list(map(str, told)), ["0 known 0", "1 read 0"])
 
+    def test_looks_that_never_become_known(self):
+        road = Road(Train(), Pace((1, 1)), Looks(2, 0, 1, losses=Losses.runs(2, 1)), width=1)
+        player = Player(road, 0)
+        for deed in ("lost", "lost", "look", "look", "look"):
+            player.do_all("tick 1", "tick 1", deed)
+        self.alike((player.looked(), player.known()), ((0, 2, 4, 6, 8, 10), (0, 4, 6, 8, 10)))
+        self.alike(player.chart().row(0, 7), (0, 0, 0, 4, 0, 2, 0))
+
+    def test_columns_of_unlike_lives_tell_nothing(self):
+        road = Road(Train(), Pace((1, 2)), Habit.steady(1), display=Restarting(), width=1)
+        player = Player(road, 0)
+        player.do_all("tick 2", "look", "restart", "tick 2", "look", "tick 2", "look", "tick 0")
+        self.alike(list(player.chart().walk()), [(0, 2), (1, None), (2, 2)])
+        for alarm, went, is_on in [(Alarm(2, 2, 2), (1,), True), (Alarm(1, 1), (1, 3), True), (Alarm(3, 4, 1), (3,), True),
+                                   (Alarm(3, 5, 1), (), False), (Alarm(2, 2, 1), (1,), True)]:
+            player.alarm = alarm
+            self.alike((player.alarms(), player.is_on), (went, is_on))
+        player.do_all("look", "restart", "tick 0", "look", "tick 0")
+        self.alike(list(player.chart().walk()), [(0, 2), (1, None), (2, 2), (3, 0), (4, None)])
+        player.alarm = Alarm(3, 2, 2)
+        self.alike((player.alarms(), player.is_on), ((1,), True))
+
     def test_charts_go_their_own_way(self):
         player = Player(Road(TRAINS[0], PACE, LOOKS[0], width=1), 0)
         player.do_all("tick 2", "tick 1", "tick 1", "look", "tick 0")
@@ -467,6 +490,7 @@ class TestPlays(Case):
         begin = 10 ** 18
         for wrong in OTHERS:
             self.fails(BadNumber(wrong), player.truth, wrong, wrong)
+            self.fails(BadNumber(wrong), player.truth, wrong, begin)
             self.fails(BadNumber(wrong), player.truth, begin, wrong)
         self.fails(BadNumber(begin - 3), player.truth, begin - 2, begin - 3)
         self.fails(Nothing(), player.truth, begin - 1, begin + 9)

@@ -87,11 +87,11 @@ class TestSeen(Case):
                 self.fails(BadRoad("fine"), asked, rough, wrong, wrong, wrong, wrong)
                 self.fails(BadRoad("fine"), asked, zoomed, wrong, wrong, wrong, wrong)
             for wrong in OTHERS + [-1, FAR + 1]:
-                self.fails(BadNumber(wrong), asked, road, wrong, -1, -1, -1)
+                self.fails(BadNumber(wrong), asked, road, wrong, -7, -7, -7)
                 self.fails(BadNumber(wrong), asked, road, FAR, 10 ** 6, 10 ** 6, wrong)
             for wrong in OTHERS + [-1, 10 ** 6 + 1]:
-                self.fails(BadNumber(wrong), asked, road, 0, wrong, -1, -1)
-                self.fails(BadNumber(wrong), asked, road, 0, 0, wrong, -1)
+                self.fails(BadNumber(wrong), asked, road, 0, wrong, -7, -7)
+                self.fails(BadNumber(wrong), asked, road, 0, 0, wrong, -7)
             self.fails(BadNumber(8), asked, road, 0, 3, 8, 4)
             self.fails(BadNumber(1), asked, road, 0, 0, 1, 0)
             asked(road, 0, 3, 7, 4)
