@@ -43,9 +43,9 @@ class NoChoice(Verdict):
 def cheapest(road, shelf, wish):
     """The first choice of a shelf whose road keeps a wish."""
     check_asked(road, shelf, wish)
-    bars = []
+    bars, found = [], {}
     for choice in shelf.choices():
-        part = part_lacked(road, shelf, wish, choice.names)
+        part = part_lacked(road, shelf, wish, choice.names, found)
         if part is None:
             return Cheapest(choice.names, choice.price, tuple(bars))
         bars.append((choice.names, part))
@@ -96,10 +96,19 @@ def road_or_none(road, shelf, names):
         return None
 
 
-def part_lacked(road, shelf, wish, names):
-    """What the road of a choice lacks, None if it keeps the wish."""
+def part_lacked(road, shelf, wish, names, found):
+    """What the road of a choice lacks, None if it keeps the wish; what was found of others is kept."""
     chosen = road_or_none(road, shelf, names)
-    return "road" if chosen is None else wish.lacks(chosen)
+    if chosen is None:
+        return "road"
+    for part in WISHED_PARTS:
+        # The display plays no part in the gaps, which take longest to reckon.
+        place = (part, names[0], names[1], names[3], names[2] if part in ("sure", "heard") else None)
+        if place not in found:
+            found[place] = lacks_part(wish, chosen, part)
+        if found[place]:
+            return part
+    return None
 
 
 def does(road, wish, kind, thing):

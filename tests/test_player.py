@@ -574,7 +574,8 @@ class TestFacts(Case):
                 states.append((player.now, player.is_on))
             if isinstance(heard(road, alarm, burst), Heard):
                 wait = longest_wait(road)
-                for end in range(player.begin + burst[1], player.now - wait):
+                # What comes ahead of the first border lies in no column.
+                for end in range(player.begin + player.lead + burst[1], player.now - wait):
                     if player.truth(end - burst[1], end) >= burst[0]:
                         self.assertTrue(any(is_on for moment, is_on in states if end <= moment <= end + wait))
                         bursts += 1
