@@ -173,6 +173,13 @@ class TestRoads(Case):
                                    pairs[1 - part], (pairs[part][0], None), (pairs[part][0], pairs[part][0])]:
                 parts = [value if at == part else pair for at, pair in enumerate(pairs)]
                 self.assertIs(shows_never_wider(one, other, Narrow(*parts)), False)
+        for part, which in itertools.product((0, 1), (0, 1)):
+            growth = pairs[part][which]
+            for other_growth in (Growth((*growth.head[:-1], growth.head[-1] + 1), growth.gains), growth + Growth((0,), (0, 1)),
+                                 growth + Growth((1, 0)), -growth):
+                changed = tuple(other_growth if at == which else one_growth for at, one_growth in enumerate(pairs[part]))
+                parts = [changed if at == part else pair for at, pair in enumerate(pairs)]
+                self.assertIs(shows_never_wider(one, other, Narrow(*parts)), False)
         back = Narrow(pairs[0][::-1], pairs[1][::-1])
         self.assertIs(shows_never_wider(other, one, back), False)
         self.assertIs(shows_never_wider(one, other, told), True)
@@ -295,6 +302,9 @@ class TestWindows(Case):
             self.assertIs(shows_alike_windows(one, one, SameWindows(wrong, one.most_growth)), False)
             if not isinstance(wrong, Growth):
                 self.assertIs(shows_alike_windows(one, one, SameWindows(one.least_growth, wrong)), False)
+        for near in (Growth((1, 0)), Growth((0,), (0, 0, 0, 0, 1))):
+            self.assertIs(shows_alike_windows(one, one, SameWindows(one.least_growth + near, one.most_growth)), False)
+            self.assertIs(shows_alike_windows(one, one, SameWindows(one.least_growth, one.most_growth - near)), False)
         for value in OTHERS + [5, Narrow(one.least_growth, one.most_growth)]:
             self.assertIs(shows_alike_windows(one, other, value), False)
 

@@ -105,6 +105,15 @@ def is_table(node, above):
     return all(words) and all(values)
 
 
+def is_simple(node, properties):
+    """Whether an argument is a name, an attribute off a name that is no property, a literal, or a row of such."""
+    if isinstance(node, ast.Attribute):
+        return isinstance(node.value, ast.Name) and node.attr not in properties
+    if isinstance(node, (ast.List, ast.Tuple)):
+        return all(is_simple(one, properties) for one in node.elts)
+    return isinstance(node, (ast.Name, ast.Constant))
+
+
 def aliases(node):
     """Which names and attributes a function gives to names, as they are."""
     found = []
@@ -431,6 +440,31 @@ class TestStatements(unittest.TestCase):
                 elif isinstance(node, ast.Starred):
                     self.assertFalse(is_call_of(node.value, "range", "zip", "enumerate"), (name, node.lineno))
 
+
+    def test_what_stands_behind_a_star(self):
+        properties = {node.name for tree in trees().values() for node in functions(tree) if "property" in decorators(node)}
+        for name, tree in trees().items():
+            for node in ast.walk(tree):
+                if not isinstance(node, ast.Call):
+                    continue
+                stars = [at for at, arg in enumerate(node.args) if isinstance(arg, ast.Starred)]
+                doubles = [word for word in node.keywords if word.arg is None]
+                if stars or doubles:
+                    behind = node.args[stars[0] + 1:] if stars else node.args
+                    told = [arg for arg in behind if not isinstance(arg, ast.Starred)]
+                    told += [word.value for word in node.keywords]
+                    self.assertTrue(all(is_simple(one, properties) for one in told), (name, node.lineno))
+                    self.assertLessEqual(len(node.keywords) if doubles else 0, 1, (name, node.lineno))
+
+    def test_methods_are_called_where_they_stand(self):
+        methods = {node.name for tree in trees().values() for box in classes(tree) for node in box.body
+                   if isinstance(node, ast.FunctionDef) and set(decorators(node)) <= {"staticmethod", "classmethod"}}
+        for name, tree in trees().items():
+            kept = parents(tree)
+            for node in ast.walk(tree):
+                if isinstance(node, ast.Attribute) and node.attr in methods:
+                    around = kept[node]
+                    self.assertTrue(isinstance(around, ast.Call) and around.func is node, (name, node.lineno))
 
     def test_no_star_in_an_index(self):
         for name, tree in trees().items():
