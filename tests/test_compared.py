@@ -93,6 +93,27 @@ class TestRoads(Case):
         self.assertEqual(orders, ["better", "better", "better", "alike", "better"])
         self.assertEqual(order(road, road.changed(display=Restarting(), width=9)), "alike")
 
+    def test_what_binds_beside_what_loses_by_lot(self):
+        orders, rules = [], [Losses.none(), Losses.runs(1, 1), Losses.runs(2, 1), Losses.runs(1, 2), Losses.share(1, 3)]
+        for seed in range(60):
+            dice = random.Random(seed)
+            road = Road(dice.choice(TRAINS), dice.choice(PACES), dice.choice(HABITS))
+            one, other = dice.choice(rules), dice.choice(rules)
+            rule = dice.choice([(1, 1), (2, 3), (3, 4), (4, 3), (5, 9)])
+            ages, late = dice.choice([(0,), (0, 1)]), dice.randint(0, 1)
+            narrow = [road.changed(looks=Looks(2, *ages, late=late, losses=one & other)),
+                      road.changed(pace=road.pace & Pace(rule)), road, road, road.changed(train=Train(Wheel(1, 2), Slips(4))),
+                      road.changed(looks=Looks(2, *ages, losses=one))]
+            wide = [road.changed(looks=Looks(2, *ages, late=late, losses=one | other)), road,
+                    road.changed(looks=road.habit | dice.choice(HABITS)), road.changed(train=road.train + Slips(5, lost=2)),
+                    road.changed(train=Train(Wheel(1, 2), Slips(4, lost=3))), road.changed(looks=Looks(2, *ages, late=1, losses=one))]
+            for left, right in zip(narrow, wide):
+                told = never_wider(left, right)
+                self.assertTrue(told, seed)
+                self.assertIs(shows_never_wider(left, right, told), True)
+                orders.append(order(left, right))
+        self.assertEqual(set(orders), {"better", "alike"})
+
     def test_wheels_turned_and_mirrored(self):
         wheel = Wheel(1, 2, 3, 3)
         road = Road(Train(wheel, Gear(2, 3)), Pace((1, 2), (3, 4)), Habit.missing(2, 1))
